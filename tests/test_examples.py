@@ -1,0 +1,103 @@
+"""The examples of the document, in its order; names and imports of earlier ones are used again."""
+
+import unittest
+
+EXAMPLES = """
+>>> from figurestay.worths import Worth, compare, read_figures, read_worth
+>>> worth = Worth(150, 2)
+>>> [worth.units, worth.scale, worth.text(3), worth.units_at(2), str(2 - worth * worth), worth == read_worth("1.500"), read_figures("0.10"), str(Worth(-5, 2))]
+[15, 1, '1.500', 150, '-0.25', True, (10, 2), '-0.05']
+>>> [compare(Worth(3), worth), compare(worth, Worth(15, 1)), compare(Worth(0), worth)]
+[1, 0, -1]
+>>> worth.text(0)
+raises TooFine(scale=1)
+>>> read_figures("05")
+raises BadValue(value='05')
+>>> from figurestay.ways import WAYS, divided, rounded, rounded_quotient, shown_as
+>>> [[divided(number, 10, way) for way in WAYS] for number in (-25, 35)]
+[[-3, -2, -2, -3, -2, -3, -2, -3, -2], [3, 4, 3, 4, 4, 3, 4, 4, 3]]
+>>> [str(rounded(Worth(-1249, 3), 1, "halfaway")), str(rounded_quotient(Worth(1), Worth(-3), 2, "floor")), shown_as(Worth(5, 1), 0, 1, "cut")]
+['-1.2', '-0.34', None]
+>>> [[str(end) for end in shown_as(Worth(units), 0, 1, "halfeven")] for units in (0, 1)]
+[['-0.5', '0.5'], ['0.6', '1.4']]
+>>> from figurestay.shapes import Column, Shape, least_shape
+>>> shape = Shape(1, 2)
+>>> [shape.width, str(shape.greatest()), shape.fits(Worth(-999, 2)), shape.fits(Worth(10)), shape.fits(Worth(1, 3))]
+[3, '9.99', True, False, False]
+>>> [least_shape([Worth(12), Worth(-5, 3)]) == Shape(2, 3), least_shape([Worth(0)]) == Shape(1, 0), least_shape([Worth(5, 1), Worth(0)]) == Shape(0, 1)]
+[True, True, True]
+>>> [[str(worth) for worth in (column.lowest(), column.highest()) + column.small()] for column in (Column(2, 0), Column(0, 1, "unsigned"), Column(1, 1, "positive"))]
+[['-99', '99', '0', '1'], ['0', '0.9', '0', '0.1'], ['0.1', '9.9', '0.1', '0.2']]
+>>> from figurestay.dialects import Dialect
+>>> dialect = Dialect(6, 2)
+>>> shape = dialect.uncut("product", Shape(3, 2), Shape(2, 1))
+>>> [(one.whole, one.scale) for one in (shape, dialect.cut(shape), dialect.shape_of("sum", Shape(3, 2), Shape(2, 1)), dialect.uncut("quotient", Shape(3, 2), Shape(2, 1)))]
+[(5, 3), (4, 2), (4, 2), (4, 5)]
+>>> [(one.whole, one.scale) for one in (Dialect(6, 0).cut(shape), Dialect(6, 6).cut(shape), Dialect(6, 0).cut(Shape(9, 3)))]
+[(5, 1), (3, 3), (6, 0)]
+>>> from figurestay.formulas import Formula, column, constant
+>>> formula = column("a") + 2 * column("b")
+>>> formula.rows
+(('column', 'a'), ('constant', 2, 0), ('column', 'b'), ('product', 1, 2), ('sum', 0, 3))
+>>> [formula.part(3) == constant(2) * column("b"), formula.replaced(3, column("c")) == column("a") + column("c"), formula.names(), formula.parts(4), formula.size]
+[True, True, ('a', 'b'), (0, 3), 5]
+>>> Formula([("column", "a"), ("column", "b"), ("sum", 1, 0)])
+raises BadStep(number=2)
+>>> from figurestay.shaped import Shaped
+>>> from figurestay.worked import exact_worth, result_of, work
+>>> columns = {"a": Column(3, 2), "b": Column(3, 2)}
+>>> shaped = Shaped(column("a") * column("b"), columns, Dialect(6, 2))
+>>> [(shape.whole, shape.scale) for shape in shaped.shapes + shaped.uncapped[2:]]
+[(3, 2), (3, 2), (4, 2), (6, 4)]
+>>> run = work(shaped, {"a": Worth(125, 2), "b": Worth(3, 2)})
+>>> [str(run.result), run.events, run.ends_at]
+['0.04', ((2, 'lost'),), None]
+>>> str(result_of(shaped, {"a": Worth(125, 2), "b": Worth(3, 2)}))
+'0.04'
+>>> result_of(shaped, {"a": Worth(1)})
+raises BadWorths(name='b')
+>>> run = work(shaped, {"a": Worth(99999, 2), "b": Worth(99999, 2)})
+>>> [run.result, len(run.results), run.events, run.ends_at]
+[None, 2, ((2, 'lost'), (2, 'over')), 2]
+>>> exact_worth(column("a").over(column("b")).rounded(0, "cut"), {"a": Worth(5, 1), "b": Worth(-3)})
+(-1, 6)
+"""
+
+
+def cases(text):
+    """Pairs of a line behind >>> and what the document says of it ("" if nothing)."""
+    found = []
+    for line in text.strip().split("\n"):
+        if line.startswith(">>> "):
+            found.append((line[4:], ""))
+        else:
+            found[-1] = (found[-1][0], line)
+    return found
+
+
+def shown(line, names):
+    """What a line gives, written as the document writes it."""
+    try:
+        value = eval(line, names)
+    except SyntaxError:
+        exec(line, names)
+        return ""
+    except ValueError as error:
+        fields = ", ".join(f"{name}={value!r}" for name, value in vars(error).items())
+        return f"raises {type(error).__name__}({fields})"
+    return "" if value is None else repr(value)
+
+
+class Examples(unittest.TestCase):
+
+    def test_all(self):
+        names = {}
+        for line, wanted in cases(EXAMPLES):
+            self.assertEqual(shown(line, names), wanted, line)
+
+    def test_their_number(self):
+        self.assertEqual(len(cases(EXAMPLES)), 37)
+
+
+if __name__ == "__main__":
+    unittest.main()

@@ -170,10 +170,14 @@ def _combined(word, one, other):
     return Formula(one.rows + behind + (last,))
 
 
+def with_parts(row, parts):
+    """A row with other numbers of its parts."""
+    return row[:1] + tuple(parts) + row[1 + len(parts):]
+
+
 def _moved(row, by, start=0):
     """A row whose parts from a number on have moved by so many steps."""
-    parts = tuple([part + by if part >= start else part for part in parts_of(row)])
-    return row[:1] + parts + row[1 + len(parts):]
+    return with_parts(row, [part + by if part >= start else part for part in parts_of(row)])
 
 
 def _first_leading_to(rows, step):

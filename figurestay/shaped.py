@@ -2,8 +2,8 @@
 
 from figurestay.basics import is_name, need_dict
 from figurestay.dialects import need_dialect
-from figurestay.errors import BadValue, NoColumn, TooWide, WideColumn
-from figurestay.formulas import need_formula
+from figurestay.errors import BadValue, ColumnsDiffer, NoColumn, TooWide, WideColumn
+from figurestay.formulas import need_formula, parts_of
 from figurestay.shapes import Column, Shape, some_shape, whole_figures
 
 
@@ -45,6 +45,14 @@ def need_columns(value):
             raise BadValue(value)
 
 
+def need_same_columns(one, other):
+    """ColumnsDiffer for the first name that has not the same Column in two Shapeds."""
+    columns, others = one.columns(), other.columns()
+    for name in sorted({**columns, **others}):
+        if columns.get(name) != others.get(name):
+            raise ColumnsDiffer(name)
+
+
 def _need_narrow_columns(columns, cap):
     for name in sorted(columns):
         if columns[name].shape.width > cap:
@@ -63,14 +71,23 @@ def _shapes_of_steps(formula, columns, dialect, is_cut):
     """The Shapes of all steps, capped by the dialect or uncapped."""
     shapes = []
     for row in formula.rows:
-        if row[0] == "column":
-            shape = columns[row[1]].shape
-        elif row[0] in ("constant", "cast"):
-            shape = _told_shape(row)
-        else:
-            shape = _worked_shape(row, shapes, dialect)
+        shape = uncut_shape(row, [shapes[part] for part in parts_of(row)], columns, dialect)
         shapes.append(dialect.cut(shape) if is_cut else shape)
     return tuple(shapes)
+
+
+def uncut_shape(row, parts, columns, dialect):
+    """The Shape of a step from the Shapes of its parts, however wide."""
+    word = row[0]
+    if word == "column":
+        return columns[row[1]].shape
+    if word in ("constant", "cast"):
+        return _told_shape(row)
+    if word == "negative":
+        return parts[0]
+    if word == "round":
+        return some_shape(parts[0].whole, min(parts[0].scale, row[2]))
+    return dialect.uncut(word, parts[0], parts[1])
 
 
 def _told_shape(row):
@@ -78,13 +95,3 @@ def _told_shape(row):
     if row[0] == "cast":
         return Shape(row[2], row[3])
     return some_shape(whole_figures(row[1], row[2]), row[2])
-
-
-def _worked_shape(row, shapes, dialect):
-    """The uncut Shape of a step from the Shapes of its parts."""
-    one = shapes[row[1]]
-    if row[0] == "negative":
-        return one
-    if row[0] == "round":
-        return some_shape(one.whole, min(one.scale, row[2]))
-    return dialect.uncut(row[0], one, shapes[row[2]])

@@ -37,13 +37,13 @@ class Run:
 
 def work(shaped, worths):
     """The Run of a Shaped at the worths of a dict."""
-    run, _ = _worked(shaped, worths)
+    run, _ = worked_out(shaped, worths)
     return run
 
 
 def result_of(shaped, worths):
     """The result of the last step."""
-    run, too_great = _worked(shaped, worths)
+    run, too_great = worked_out(shaped, worths)
     if too_great is not None:
         raise Overflow(run.ends_at, too_great)
     if run.ends_at is not None:
@@ -51,18 +51,18 @@ def result_of(shaped, worths):
     return run.result
 
 
-def _worked(shaped, worths):
+def worked_out(shaped, worths):
     """The Run, and the rounded result that did not fit its shape, or None."""
     need_shaped(shaped)
     need_dict(worths)
-    _need_held_worths(shaped, worths)
+    need_held_worths(shaped, shaped.formula.names(), worths)
     results, events = [], []
     for step, row in enumerate(shaped.formula.rows):
         parts = [results[part] for part in parts_of(row)]
         if row[0] == "quotient" and parts[1].units == 0:
             events.append((step, "zero"))
             return Run(results, events), None
-        result, is_changed = _result_of_step(shaped, step, parts, worths)
+        result, is_changed = result_of_step(shaped, step, parts, worths)
         if is_changed and row[0] not in ("cast", "round"):
             events.append((step, "lost"))
         if not is_below_ten_to(result, shaped.shapes[step].whole):
@@ -72,15 +72,16 @@ def _worked(shaped, worths):
     return Run(results, events), None
 
 
-def _need_held_worths(shaped, worths):
+def need_held_worths(shaped, names, worths):
+    """BadWorths for the first of some names for which the dict has no Worth that the column holds."""
     columns = shaped.columns()
-    for name in shaped.formula.names():
+    for name in names:
         worth = worths.get(name)
         if not isinstance(worth, Worth) or not columns[name].holds(worth):
             raise BadWorths(name)
 
 
-def _result_of_step(shaped, step, parts, worths):
+def result_of_step(shaped, step, parts, worths):
     """The rounded result of a step, and whether rounding changed its raw result."""
     row = shaped.formula.rows[step]
     scale, way = shaped.shapes[step].scale, shaped.dialect.way

@@ -102,6 +102,28 @@ def need_worth(value):
         raise BadValue(value)
 
 
+def inverse(worth):
+    """The Worth 1 / worth; None if there is none."""
+    if worth.units == 0:
+        return None
+    twos, left = _without_factor(abs(worth.units), 2)
+    fives, left = _without_factor(left, 5)
+    if left != 1:
+        return None
+    places = max(twos, fives)
+    units = ten_to(places) // abs(worth.units) * worth.sign()
+    return Worth(units * ten_to(worth.scale), places)
+
+
+def _without_factor(number, factor):
+    """How often a factor is in a number from 1 on, and what is left."""
+    times = 0
+    while number % factor == 0:
+        number = number // factor
+        times += 1
+    return times, number
+
+
 def compare(one, other):
     """-1, 0 or 1, if one is less than, equal to, greater than other."""
     need_worth(one)

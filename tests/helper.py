@@ -1,12 +1,15 @@
 """What several tests need: values of all kinds, checks of refusals, formulas as trees, formulas by chance."""
 
+import itertools
 import unittest
+from fractions import Fraction
 
 from figurestay.dialects import Dialect
 from figurestay.errors import BadValue, NoFigures
 from figurestay.formulas import Formula, column, constant
 from figurestay.shaped import Shaped
 from figurestay.shapes import Column, Shape
+from figurestay.ways import WAYS
 from figurestay.worked import work
 from figurestay.worths import Worth
 
@@ -118,3 +121,152 @@ def chance_tree(chance, size, names="abc"):
 
 def chance_formula(chance, size, names="abc"):
     return Formula(rows_of(chance_tree(chance, size, names)))
+
+
+def fraction(worth):
+    return Fraction(worth.units, 10 ** worth.scale)
+
+
+def worths_of(told):
+    """All Worths that a Column holds, ascending."""
+    scale = told.shape.scale
+    return [Worth(units, scale) for units in range(told.lowest().units_at(scale), told.highest().units_at(scale) + 1)]
+
+
+def all_worths(columns, names=None):
+    """A dict of worths for each choice of worths of the columns; those that are not named stay at their least ones."""
+    names = sorted(columns) if names is None else names
+    others = {name: columns[name].lowest() for name in columns if name not in names}
+    choices = itertools.product(*[worths_of(columns[name]) for name in names])
+    return [{**others, **dict(zip(names, chosen))} for chosen in choices]
+
+
+def exact_results(formula, worths):
+    """What each step gives if none rounds, as Fractions; None for what divides by 0, and for what needs it."""
+    results = []
+    for row in formula.rows:
+        many = {"column": 0, "constant": 0, "negative": 1, "cast": 1, "round": 1}.get(row[0], 2)
+        parts = [results[part] for part in row[1:1 + many]]
+        if None in parts or (row[0] == "quotient" and parts[1] == 0):
+            results.append(None)
+        elif row[0] == "column":
+            results.append(fraction(worths[row[1]]))
+        elif row[0] == "constant":
+            results.append(Fraction(row[1], 10 ** row[2]))
+        elif many == 1:
+            results.append(-parts[0] if row[0] == "negative" else parts[0])
+        else:
+            one, other = parts
+            results.append(one / other if row[0] == "quotient" else
+                           {"sum": one + other, "difference": one - other, "product": one * other}[row[0]])
+    return results
+
+
+def has_scale(number, scale):
+    return (number * 10 ** scale).denominator == 1
+
+
+def first_not_plain(shaped):
+    """The first step that is not as [14] says, found with all worths of the columns; or None."""
+    rows, every = shaped.formula.rows, []
+    if any(row[0] in ("cast", "round") for row in rows[:-1]):
+        choices = all_worths(shaped.columns(), shaped.formula.names())
+        every = [exact_results(shaped.formula, worths) for worths in choices]
+    for step, row in enumerate(rows):
+        at_end = step == len(rows) - 1
+        if row[0] in ("cast", "round"):
+            scale = row[3] if row[0] == "cast" else row[2]
+            if not at_end and not all(has_scale(results[step], scale) for results in every):
+                return step
+        if row[0] in ("product", "quotient"):
+            left, right = [shaped.formula.part(part) for part in row[1:]]
+            if row[0] == "product" and set(left.names()) & set(right.names()):
+                return step
+            if row[0] == "quotient" and not may_divide(left, right, at_end):
+                return step
+    return None
+
+
+def may_divide(left, right, at_end):
+    """Whether a quotient is as [14] says."""
+    if right.rows[-1][0] == "column":
+        return at_end and right.rows[-1][1] not in left.names()
+    if [row[0] for row in right.rows] not in (["constant"], ["constant", "negative"]):
+        return False
+    return at_end or is_decimal(Fraction(right.rows[0][1], 10 ** right.rows[0][2]))
+
+
+def is_decimal(number):
+    """Whether a number from 0 on is a power of 2 times a power of 5."""
+    left = number.numerator * number.denominator
+    for factor in (2, 5):
+        while left and left % factor == 0:
+            left //= factor
+    return left == 1
+
+
+def chance_plain_tree(chance, size, names, at_end=True):
+    """A tree that is plain but, now and then, for a cast or a round."""
+    kind = chance.random()
+    if size <= 1:
+        if names and kind < 0.75:
+            return "column", (), (chance.choice(names),)
+        return "constant", (), chance.choice([(0, 0), (3, 0), (125, 3), (8, 3), (25, 1), (10, 1), (400, 2), (7, 0)])
+    if kind < 0.1 or (kind < 0.25 and at_end):
+        part = chance_plain_tree(chance, size - 1, names, False)
+        return chance.choice([
+            ("negative", (part,), ()), ("cast", (part,), (chance.randrange(1, 4), chance.randrange(5))),
+            ("round", (part,), (chance.randrange(4), chance.choice(WAYS))),
+        ])
+    if kind < 0.35:
+        units = [(2, 0), (5, 1), (8, 2), (1, 0), (125, 3)] + ([(3, 0), (0, 0), (63, 1), (7, 2)] if at_end else [])
+        divisor = "constant", (), chance.choice(units)
+        if kind < 0.28:
+            divisor = "negative", (divisor,), ()
+        return "quotient", (chance_plain_tree(chance, max(1, size - 2), names, False), divisor), ()
+    left = chance.randrange(1, max(2, size - 1))
+    one, other = names, names
+    word = chance.choice(["sum", "difference", "product", "product"])
+    if word == "product":
+        one = [name for name in names if chance.random() < 0.5]
+        other = [name for name in names if name not in one]
+    if at_end and kind < 0.45 and names:
+        by = chance.choice(names)
+        left_names = [name for name in names if name != by]
+        return "quotient", (chance_plain_tree(chance, size - 2, left_names, False), ("column", (), (by,))), ()
+    left_part = chance_plain_tree(chance, left, one, False)
+    return word, (left_part, chance_plain_tree(chance, max(1, size - 1 - left), other, False)), ()
+
+
+def all_orders(items):
+    """Each way to put two and two together until one is left: a single item, or a pair of two orders."""
+    if len(items) == 1:
+        return [items[0]]
+    orders = []
+    for choice in range(1, 1 << (len(items) - 1)):
+        other = [item for place, item in enumerate(items[1:]) if choice >> place & 1]
+        one = [items[0]] + [item for place, item in enumerate(items[1:]) if not choice >> place & 1]
+        orders.extend(itertools.product(all_orders(one), all_orders(other)))
+    return orders
+
+
+def all_brackets(items):
+    """The same with the items in their order."""
+    if len(items) == 1:
+        return [items[0]]
+    orders = []
+    for place in range(1, len(items)):
+        orders.extend(itertools.product(all_brackets(items[:place]), all_brackets(items[place:])))
+    return orders
+
+
+def leaves(order):
+    """The items of an order, from left to right."""
+    return leaves(order[0]) + leaves(order[1]) if isinstance(order, tuple) else [order]
+
+
+def worked_by(order, formulas, join):
+    """The Formula in which formulas are joined by an order of their indexes."""
+    if not isinstance(order, tuple):
+        return formulas[order]
+    return join(worked_by(order[0], formulas, join), worked_by(order[1], formulas, join))

@@ -61,6 +61,68 @@ raises BadWorths(name='b')
 [None, 2, ((2, 'lost'), (2, 'over')), 2]
 >>> exact_worth(column("a").over(column("b")).rounded(0, "cut"), {"a": Worth(5, 1), "b": Worth(-3)})
 (-1, 6)
+>>> from figurestay.backs import told_back
+>>> half = Shaped((column("a") * constant(5, 1)).rounded(0, "halfeven"), {"a": Column(3, 1)}, Dialect(20, 0))
+>>> [[str(end) for end in told_back(half, {}, "a", Worth(units))] for units in (2, 1)]
+[['3', '5'], ['1.1', '2.9']]
+>>> from figurestay.exacts import exact_range, finer, is_plain, true_shape, unlike
+>>> columns = {"a": Column(2, 1), "b": Column(1, 2, "unsigned")}
+>>> shaped = Shaped(column("a") * column("b") - 3 * column("a"), columns, Dialect(20, 6))
+>>> [str(worth) for worth, worths in exact_range(shaped, 6)]
+['-698.301', '698.301']
+>>> shape, small = true_shape(shaped, 6), finer(shaped, 6, 2)
+>>> [(shape.whole, shape.scale), [str(small[name]) for name in ("a", "b")], finer(shaped, 6, 3)]
+[(3, 3), ['0.1', '0.01'], None]
+>>> [unlike(shaped, shaped.with_formula(column("a") * (column("b") - 3))), is_plain(shaped.with_formula(column("a") * column("a")))]
+[None, False]
+>>> exact_range(shaped.with_formula(column("a") * column("a") + 1), 2)
+raises NotPlain(step=2)
+>>> exact_range(shaped.with_formula(column("a").over(Worth(3))), 2)
+raises Divides(step=2)
+>>> from figurestay.events import first_event, is_safe
+>>> product = column("a") * column("b")
+>>> events = [first_event(Shaped(product, columns, Dialect(5, kept))) for kept in (1, 3)]
+>>> [[event.step, sorted(event.kinds)] for event in events]
+[[2, ['lost']], [2, ['over']]]
+>>> [sorted(events[1].kinds["over"]), is_safe(Shaped(product, columns, Dialect(6, 0)))]
+[['a', 'b'], True]
+>>> from figurestay.orders import best_whole, least_whole, least_whole_in_row, reached, safe_sum
+>>> [least_whole([5, 5, 5, 5]), least_whole([1, 3, 1]), least_whole_in_row([1, 3, 1])]
+[7, 4, 5]
+>>> wide = {name: Column(5, 2) for name in ("p", "q", "r", "s")}
+>>> terms = [column(name) for name in ("p", "q", "r", "s")]
+>>> [best_whole(terms, wide, Dialect(cap, 0)) for cap in (9, 8)]
+[7, None]
+>>> reached([column("p"), constant(125, 3), constant(8)], wide, Dialect(8, 0))
+[(0, 1, 2), (0, 2), (1, 2)]
+>>> from figurestay.chains import barring, safe_form, spread
+>>> row = Shaped(terms[0] + terms[1] + terms[2] + terms[3], wide, Dialect(9, 0))
+>>> [is_safe(row), is_safe(row.with_formula(safe_form(row))), barring(row), barring(Shaped(row.formula, wide, Dialect(8, 0)))]
+[False, True, None, 6]
+>>> spread(column("a") * (column("b") - 3), 4) == column("a") * column("b") - column("a") * 3
+True
+>>> spread(column("a") * column("b"), 2)
+raises NotASum(step=2)
+>>> from figurestay.casts import cast_at, fewest_casts
+>>> narrow = Shaped(column("p") * constant(1, 3) * column("q"), wide, Dialect(14, 0))
+>>> [fewest_casts(narrow), cast_at(narrow, [2]).rows[3]]
+[(2,), ('cast', 2, 2, 5)]
+>>> fewest_casts(narrow.with_formula(column("p").rounded(0, "halfup")))
+raises NotSteady(step=1)
+>>> from figurestay.caps import least_cap, widest, widest_pairs
+>>> [least_cap(narrow), widest(narrow, "q")]
+[17, 2]
+>>> widest_pairs(narrow, "p", "q")
+[(0, 7), (1, 6), (2, 5), (3, 4), (4, 3), (5, 2), (6, 1), (7, 0)]
+>>> from figurestay.linear import is_linear, multipliers, need_linear, rest
+>>> columns = {"a": Column(2, 1), "b": Column(2, 0)}
+>>> shaped = Shaped(2 * column("a") - column("b") * constant(25, 2) + 7, columns, Dialect(20, 0))
+>>> [[(name, str(multipliers(shaped)[name])) for name in ("a", "b")], str(rest(shaped)), is_linear(shaped)]
+[[('a', '2'), ('b', '-0.25')], '7', True]
+>>> need_linear(shaped.with_formula(column("a") * column("b")))
+raises NotLinear(step=2)
+>>> [is_linear(shaped.with_formula(column("a").over(Worth(units)))) for units in (8, 3, 0)]
+[True, False, False]
 """
 
 
@@ -96,7 +158,7 @@ class Examples(unittest.TestCase):
             self.assertEqual(shown(line, names), wanted, line)
 
     def test_their_number(self):
-        self.assertEqual(len(cases(EXAMPLES)), 37)
+        self.assertEqual(len(cases(EXAMPLES)), 78)
 
 
 if __name__ == "__main__":

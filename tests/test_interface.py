@@ -15,6 +15,18 @@ FUNCTIONS = {
     "shapes": {"least_shape": "(worths)"},
     "formulas": {"column": "(name)", "constant": "(units, scale=0)"},
     "worked": {"work": "(shaped, worths)", "result_of": "(shaped, worths)", "exact_worth": "(formula, worths)"},
+    "backs": {"told_back": "(shaped, worths, name, result)"},
+    "exacts": {"is_plain": "(shaped)", "exact_range": "(shaped, step)", "true_shape": "(shaped, step)",
+               "finer": "(shaped, step, scale)", "unlike": "(one, other)"},
+    "events": {"first_event": "(shaped)", "is_safe": "(shaped)"},
+    "orders": {"least_whole": "(wholes)", "least_whole_in_row": "(wholes)", "joined": "(wholes)",
+               "joined_in_row": "(wholes)", "best_whole": "(terms, columns, dialect)",
+               "safe_sum": "(terms, columns, dialect)", "safe_sum_in_row": "(terms, columns, dialect)",
+               "reached": "(factors, columns, dialect)", "safe_product": "(factors, columns, dialect)"},
+    "chains": {"safe_form": "(shaped)", "barring": "(shaped)", "spread": "(formula, step)"},
+    "casts": {"cast_at": "(shaped, steps)", "fewest_casts": "(shaped)"},
+    "caps": {"least_cap": "(shaped)", "widest": "(shaped, name)", "widest_pairs": "(shaped, name, other)"},
+    "linear": {"is_linear": "(shaped)", "need_linear": "(shaped)", "multipliers": "(shaped)", "rest": "(shaped)"},
 }
 
 CLASSES = {
@@ -32,6 +44,7 @@ CLASSES = {
     "shaped": {"Shaped": {"__init__": "(self, formula, columns, dialect)", "columns": "(self)",
                           "with_formula": "(self, formula)"}},
     "worked": {"Run": {}},
+    "events": {"Event": {"__init__": "(self, step, kinds)"}},
 }
 
 PROPERTIES = {("shapes", "Shape"): ["width"], ("formulas", "Formula"): ["size"],
@@ -42,7 +55,7 @@ SIGNS = {("worths", "Worth"): ["__add__", "__radd__", "__sub__", "__rsub__", "__
          ("formulas", "Formula"): ["__add__", "__radd__", "__sub__", "__rsub__", "__mul__", "__rmul__", "__neg__",
                                    "__eq__"],
          ("shapes", "Shape"): ["__eq__"], ("shapes", "Column"): ["__eq__"], ("dialects", "Dialect"): ["__eq__"],
-         ("worked", "Run"): ["__eq__"]}
+         ("worked", "Run"): ["__eq__"], ("events", "Event"): ["__eq__"]}
 
 
 def module_of(name):

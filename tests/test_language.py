@@ -22,7 +22,7 @@ LIBRARY = {"heapq": {"heappush", "heappop", "heapify", "heapreplace", "heappushp
            "itertools": {"product", "combinations", "permutations"}}
 SPECIAL = set("""__init__ __eq__ __str__ __add__ __radd__ __sub__ __rsub__ __mul__ __rmul__ __neg__ __abs__""".split())
 STATEMENTS = (ast.Assign, ast.AugAssign, ast.If, ast.While, ast.For, ast.Return, ast.Break, ast.Continue, ast.Pass,
-              ast.Raise, ast.Expr, ast.FunctionDef, ast.ClassDef, ast.ImportFrom)
+              ast.Raise, ast.Try, ast.Expr, ast.FunctionDef, ast.ClassDef, ast.ImportFrom)
 EXPRESSIONS = (ast.BoolOp, ast.BinOp, ast.UnaryOp, ast.Lambda, ast.IfExp, ast.Dict, ast.ListComp, ast.SetComp,
                ast.DictComp, ast.Compare, ast.Call, ast.FormattedValue, ast.JoinedStr, ast.Constant, ast.Attribute,
                ast.Subscript, ast.Name, ast.List, ast.Tuple, ast.Slice)
@@ -200,6 +200,8 @@ class Language(unittest.TestCase):
         called = {id(node.func) for node, _ in self.each(ast.Call)}
         called |= {id(part) for node, _ in self.each(ast.Call) for told in node.args for part in ast.walk(told)
                    if isinstance(node.func, ast.Name) and node.func.id == "isinstance"}
+        called |= {id(told.value) for node, _ in self.each(ast.Call) for told in node.keywords
+                   if told.arg == "key" and isinstance(told.value, ast.Name) and told.value.id in ("len", "abs")}
         called |= {id(base) for node, _ in self.each(ast.ClassDef) for base in node.bases}
         for node, at in self.each(ast.Name):
             if isinstance(node.ctx, ast.Load) and hasattr(builtins, node.id) and node.id != "property":
@@ -282,6 +284,13 @@ class Language(unittest.TestCase):
                 read.add(node.attr)
         self.assertFalse(assigned & own_methods())
         self.assertFalse(read - assigned - own_methods() - METHODS)
+
+    def test_own_errors_alone_are_caught(self):
+        errors = {node.name for node in TREES["errors.py"].body if isinstance(node, ast.ClassDef)}
+        for node, at in self.each(ast.Try):
+            self.assertFalse(node.finalbody, at)
+            for handler in node.handlers:
+                self.assertTrue(isinstance(handler.type, ast.Name) and handler.type.id in errors, at)
 
     def test_raise_creates_its_error_on_the_spot(self):
         errors = {node.name for node in TREES["errors.py"].body if isinstance(node, ast.ClassDef)}

@@ -14,14 +14,14 @@ def cast_at(shaped, steps):
     for step in steps:
         need_step(shaped.formula, step)
     exacts = steady_exacts(shaped)
-    rows, places = [], []
+    made, places = [], []
     for step, row in enumerate(shaped.formula.rows):
-        rows.append(with_parts(row, [places[part] for part in parts_of(row)]))
+        made.append(with_parts(row, [places[part] for part in parts_of(row)]))
         if step in steps:
             shape = true_shape_of(exacts.spans[step])
-            rows.append(("cast", len(rows) - 1, shape.whole, shape.scale))
-        places.append(len(rows) - 1)
-    return Formula(rows)
+            made.append(("cast", len(made) - 1, shape.whole, shape.scale))
+        places.append(len(made) - 1)
+    return Formula(made)
 
 
 def fewest_casts(shaped):

@@ -34,11 +34,6 @@ def is_safe(shaped):
     return first_event(shaped) is None
 
 
-def are_safe(exacts, shapes):
-    """Whether no step has an event for any worths if the steps have these Shapes."""
-    return all([len(kinds_at(exacts, step, shape)) == 0 for step, shape in enumerate(shapes)])
-
-
 def kinds_at(exacts, step, shape):
     """The kinds of events that a step with this Shape has, with worths, if no step ahead of it has an event."""
     row = exacts.shaped.formula.rows[step]

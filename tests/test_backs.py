@@ -142,6 +142,8 @@ class Backs(Case):
         self.refused(BadWorths, {"name": "a"}, told_back, shaped, {"a": Worth(1, 2), "b": 5}, "b", Worth(5))
         twice = Shaped(a + b.over(a), COLUMNS, Dialect(9, 0))
         self.refused(NotOnce, {"name": "a"}, told_back, twice, {}, "a", Worth(5))
+        for formula in (a + a, a * b - a, -(a + 1) + a + b):
+            self.refused(NotOnce, {"name": "a"}, told_back, twice.with_formula(formula), {}, "a", Worth(5))
         deep = Shaped(b.over(-(column("c") + 1)) + a, COLUMNS, Dialect(9, 0))
         self.refused(NotOnce, {"name": "c"}, told_back, deep, {}, "c", Worth(5))
 

@@ -1,6 +1,6 @@
 """Sets of the terms of a sum, or of the factors of a product, that can be worked out safely.
 
-A set is written as a number: the bit of each index that is in it. The other order of a set is told by its two halves.
+A set is written as a number with the bits of the indexes that are in it. An order of a set is told by its two halves.
 """
 
 from figurestay.spans import least_scale, least_whole_figures, product_span, sum_span

@@ -7,9 +7,10 @@ from fractions import Fraction
 from figurestay.dialects import Dialect
 from figurestay.errors import BadValue, NoFigures
 from figurestay.formulas import Formula, column, constant
+from figurestay.linear import is_linear, multipliers, rest
 from figurestay.shaped import Shaped
 from figurestay.shapes import Column, Shape
-from figurestay.ways import WAYS
+from figurestay.ways import WAYS, divided
 from figurestay.worked import work
 from figurestay.worths import Worth
 
@@ -270,3 +271,106 @@ def worked_by(order, formulas, join):
     if not isinstance(order, tuple):
         return formulas[order]
     return join(worked_by(order[0], formulas, join), worked_by(order[1], formulas, join))
+
+
+# Constants by which a formula that is linear multiplies and divides.
+FACTORS = [(2, 0), (5, 1), (25, 2), (3, 0), (1, 1), (12, 0), (99, 0), (7, 1), (99, 2), (0, 0), (15, 1), (1, 0)]
+DIVISORS = [(2, 0), (5, 0), (8, 0), (4, 1), (1, 1), (10, 0), (25, 2)]
+
+
+def chance_linear_tree(chance, size, names):
+    """A tree of about so many steps in which products and quotients have one side without columns."""
+    kind = chance.random()
+    if size <= 1:
+        if kind < 0.8:
+            return "column", (), (chance.choice(names),)
+        return "constant", (), chance.choice([(0, 0), (5, 1), (15, 1), (3, 0), (125, 3), (99, 0), (5, 0), (45, 2)])
+    if kind < 0.35:
+        part = chance_linear_tree(chance, size - 1, names)
+        if kind < 0.22:
+            return "round", (part,), (chance.randrange(3), chance.choice(WAYS))
+        if kind < 0.3:
+            return "cast", (part,), (chance.choice([1, 2, 3, 5]), chance.randrange(3))
+        return "negative", (part,), ()
+    if kind < 0.65:
+        part = chance_linear_tree(chance, size - 2, names)
+        if kind > 0.55:
+            return "quotient", (part, ("constant", (), chance.choice(DIVISORS))), ()
+        by = "constant", (), chance.choice(FACTORS)
+        if chance.random() < 0.2:
+            by = "negative", (by,), ()
+        if chance.random() < 0.1:
+            by = "round", (by,), (chance.randrange(2), chance.choice(WAYS))
+        return "product", ((part, by) if chance.random() < 0.5 else (by, part)), ()
+    left = chance.randrange(1, max(2, size - 1))
+    parts = chance_linear_tree(chance, left, names), chance_linear_tree(chance, max(1, size - 1 - left), names)
+    return chance.choice(["sum", "difference"]), parts, ()
+
+
+LITTLE = [("signed", 1, 1), ("signed", 1, 0), ("signed", 0, 1), ("unsigned", 0, 2), ("unsigned", 1, 1),
+          ("positive", 1, 1), ("positive", 1, 0), ("unsigned", 2, 0)]
+
+
+def chance_linear_pair(chance):
+    """Two linear Shapeds over the same few little columns, with the same dialect."""
+    columns = {name: Column(whole, scale, mark)
+               for name in "ab" for mark, whole, scale in [chance.choice(LITTLE)]}
+    cap = chance.choice([3, 4, 5, 6, 20])
+    dialect = Dialect(cap, min(chance.randrange(3), cap), extra=chance.randrange(2), places=chance.randrange(3),
+                      way=chance.choice(WAYS))
+    names = chance.choice(["a", "ab", "ab"])
+    return [chance_linear(chance, names, columns, dialect) for _ in range(2)]
+
+
+def chance_linear(chance, names, columns, dialect):
+    while True:
+        tree = chance_linear_tree(chance, chance.choice([2, 3, 5, 7, 9]), names)
+        try:
+            shaped = Shaped(Formula(rows_of(tree)), columns, dialect)
+        except ValueError:
+            continue
+        if is_linear(shaped):
+            return shaped
+
+
+def free_results(shaped, worths):
+    """What each step makes of its parts and what it is rounded to, as Fractions, whether it fits or not."""
+    raws, results = [], []
+    for step, row in enumerate(shaped.formula.rows):
+        parts = [results[part] for part in shaped.formula.parts(step)]
+        if row[0] == "column":
+            raw = fraction(worths[row[1]])
+        elif row[0] == "constant":
+            raw = Fraction(row[1], 10 ** row[2])
+        elif len(parts) == 1:
+            raw = -parts[0] if row[0] == "negative" else parts[0]
+        else:
+            one, other = parts
+            raw = {"sum": lambda: one + other, "difference": lambda: one - other, "product": lambda: one * other,
+                   "quotient": lambda: one / other}[row[0]]()
+        scale, way = shaped.shapes[step].scale, shaped.dialect.way
+        if row[0] == "round":
+            scale, way = row[2], row[3]
+        many = raw * 10 ** scale
+        raws.append(raw)
+        results.append(Fraction(divided(many.numerator, many.denominator, way), 10 ** scale))
+    return raws, results
+
+
+def straight_result(shaped, worths):
+    """The straight result at these worths, as a Fraction."""
+    found = multipliers(shaped)
+    return fraction(rest(shaped)) + sum(fraction(found[name]) * fraction(worths[name]) for name in found)
+
+
+def is_over(shaped, step, results):
+    return abs(results[step]) >= 10 ** shaped.shapes[step].whole
+
+
+def first_over_step(shaped, every):
+    """The first step that is over at some of these worths, or None."""
+    tables = [free_results(shaped, worths)[1] for worths in every]
+    for step in range(shaped.formula.size):
+        if any(is_over(shaped, step, results) for results in tables):
+            return step
+    return None

@@ -123,6 +123,37 @@ raises NotSteady(step=1)
 raises NotLinear(step=2)
 >>> [is_linear(shaped.with_formula(column("a").over(Worth(units)))) for units in (8, 3, 0)]
 [True, False, False]
+>>> from figurestay.extremes import extremes, first_over, losing
+>>> columns = {"a": Column(1, 1, "unsigned")}
+>>> shaped = Shaped(column("a") - column("a").cast(2, 0), columns, Dialect(20, 0))
+>>> [[str(worth) for worth, worths in extremes(shaped, 3)], first_over(shaped), losing(shaped, 3), losing(shaped, 2) is None]
+[['-0.5', '0.4'], None, None, False]
+>>> first_over(shaped.with_formula(column("a").rounded(0, "halfup")))[0]
+1
+>>> step, worths = first_over(Shaped(column("a") + 1, {"a": Column(1, 0, "unsigned")}, Dialect(1, 0)))
+>>> [step, str(worths["a"])]
+[2, '9']
+>>> from figurestay.strays import apart, stray
+>>> [str(worth) for worth, worths in stray(shaped.with_formula(column("a").cast(2, 0)))]
+['-0.4', '0.5']
+>>> both = {"a": Column(2, 1, "unsigned"), "b": Column(2, 0, "unsigned")}
+>>> early = Shaped(column("a").cast(3, 0) + column("b"), both, Dialect(20, 0, way="halfeven"))
+>>> late = early.with_formula((column("a") + column("b")).cast(3, 0))
+>>> [str(worth) for worth, worths in apart(early, late)]
+['-1', '1']
+>>> apart(early, shaped)
+raises ColumnsDiffer(name='a')
+>>> from figurestay.agree import parting, parting_widths
+>>> [parting(early, late) is None, parting_widths(early, late)[0]]
+[False, 1]
+>>> up = [Shaped(one.formula, both, Dialect(20, 0)) for one in (early, late)]
+>>> [parting(up[0], up[1]), parting_widths(up[0], up[1])]
+[None, None]
+>>> from figurestay.compared import shapes_part, ways_part
+>>> shapes_part(Dialect(6, 2), Dialect(6, 2, extra=1), {"a": Column(2, 0)}).rows
+(('column', 'a'), ('column', 'a'), ('product', 0, 1))
+>>> [str(ways_part("halfeven", "halfdown", signed)) for signed in (True, False)] + [ways_part("cut", "floor", False)]
+['-0.5', '1.5', None]
 """
 
 
@@ -158,7 +189,7 @@ class Examples(unittest.TestCase):
             self.assertEqual(shown(line, names), wanted, line)
 
     def test_their_number(self):
-        self.assertEqual(len(cases(EXAMPLES)), 78)
+        self.assertEqual(len(cases(EXAMPLES)), 99)
 
 
 if __name__ == "__main__":

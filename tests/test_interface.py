@@ -27,6 +27,10 @@ FUNCTIONS = {
     "casts": {"cast_at": "(shaped, steps)", "fewest_casts": "(shaped)"},
     "caps": {"least_cap": "(shaped)", "widest": "(shaped, name)", "widest_pairs": "(shaped, name, other)"},
     "linear": {"is_linear": "(shaped)", "need_linear": "(shaped)", "multipliers": "(shaped)", "rest": "(shaped)"},
+    "extremes": {"extremes": "(shaped, step)", "first_over": "(shaped)", "losing": "(shaped, step)"},
+    "strays": {"stray": "(shaped)", "apart": "(one, other)"},
+    "agree": {"parting": "(one, other)", "parting_widths": "(one, other)"},
+    "compared": {"shapes_part": "(dialect, other, columns)", "ways_part": "(way, other, signed)"},
 }
 
 CLASSES = {

@@ -32,6 +32,11 @@ def is_whole_number(value):
     return is_an_integer(value) and value >= 0
 
 
+def is_integer_from_1(value):
+    """Whether a value is an integer from 1 on."""
+    return is_an_integer(value) and value >= 1
+
+
 def is_name(value):
     """Whether a value is a string of 1 to 8 letters from a to z."""
     if not isinstance(value, str) or not 1 <= len(value) <= 8:

@@ -33,7 +33,7 @@ class Gram:
         self.bulks.append(row.pop())
         self.slants.append(row)
 
-    def times(self, at, other):
+    def leaning(self, at, other):
         """How many of another vector are to be taken off a vector."""
         bulk = self.bulks[other + 1]
         return (2 * self.slants[at][other] + bulk) // (2 * bulk)
@@ -104,7 +104,7 @@ def shortened(basis, forms, weights):
 
 def _shorten(basis, gram, at, other):
     """Take off a vector what makes it lean least on another one."""
-    times = gram.times(at, other)
+    times = gram.leaning(at, other)
     if times == 0:
         return
     gram.shift(at, other, times)

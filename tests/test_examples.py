@@ -154,6 +154,70 @@ raises ColumnsDiffer(name='a')
 (('column', 'a'), ('column', 'a'), ('product', 0, 1))
 >>> [str(ways_part("halfeven", "halfdown", signed)) for signed in (True, False)] + [ways_part("cut", "floor", False)]
 ['-0.5', '1.5', None]
+>>> from figurestay.totals import rounded_total, running_total, total_of_rounded
+>>> [str(total([(Worth(5, 1), 3)], 0, "halfeven")) for total in (rounded_total, total_of_rounded, running_total)]
+['2', '0', '0']
+>>> [str(running_total([(Worth(-3), 1), (Worth(5, 1), times)], 0, "cut")) for times in (1, 3, 10 ** 30)]
+['-2', '0', '0']
+>>> running_total([(Worth(1), 1), (Worth(1), -1)], 0, "cut")
+raises BadEntry(index=1)
+>>> from figurestay.tallies import order_for, tally_range
+>>> pair = [(Worth(5, 1), 1), (Worth(-5, 1), 1)]
+>>> [[str(end) for end in tally_range(pair, 0, way)] for way in ("halfup", "halfeven", "cut", "away")]
+[['1', '1'], ['0', '0'], ['0', '0'], ['-1', '1']]
+>>> worths = [Worth(5, 1), Worth(1), Worth(15, 1), Worth(1)]
+>>> [str(end) for end in tally_range([(worth, 1) for worth in worths], 0, "halfeven")]
+['3', '5']
+>>> order = order_for(worths, 0, "halfeven", Worth(4))
+>>> [sorted(order), str(running_total([(worths[index], 1) for index in order], 0, "halfeven"))]
+[[0, 1, 2, 3], '4']
+>>> order_for([Worth(5, 1), Worth(-5, 1)], 0, "away", Worth(0))
+raises Gaps(way='away')
+>>> from figurestay.crowds import over_from, rounding_gap, running_gap, running_over_from
+>>> [[str(gap) for gap, worth in rounding_gap(Column(2, 1), 0, way, many)] for way, many in (("halfeven", 3), ("halfup", 10), ("cut", 10))]
+[['-2', '2'], ['-5', '4'], ['-9', '9']]
+>>> [[str(gap) for gap in running_gap(Column(1, 1), 0, way, 100)] for way in ("cut", "halfaway", "halfeven", "floor")]
+[['-90', '90'], ['-99', '99'], ['-50', '50'], ['0', '0']]
+>>> shaped = Shaped(column("a") * column("b"), {"a": Column(2, 1, "unsigned"), "b": Column(1, 0, "unsigned")}, Dialect(20, 0))
+>>> [over_from(shaped, 9, 0, "halfup")[0], running_over_from(shaped, 9, 0, "halfup")[0]]
+[1112224, 1112348]
+>>> little = Shaped(column("a") * constant(4, 1), {"a": Column(0, 1)}, Dialect(20, 0))
+>>> [over_from(little, 1, 0, "halfup")[0], running_over_from(little, 1, 0, "halfup")]
+[27, None]
+>>> from figurestay.reader import read_formula, written
+>>> read_formula("-a * (b + 0.10)").rows
+(('column', 'a'), ('negative', 0), ('column', 'b'), ('constant', 10, 2), ('sum', 2, 3), ('product', 1, 4))
+>>> [written(read_formula(text)) for text in (" ( a*b ) - ( c - 2.50 )", "-(a)*-(b/c)", "round(cast((a), 4, 2), 0, halfeven)")]
+['a*b-(c-2.50)', '-a*-(b/c)', 'round(cast(a,4,2),0,halfeven)']
+>>> read_formula("a + * b")
+raises NotAFormula(at=4)
+>>> read_formula("cast(a, 0, 0)")
+raises NotAFormula(at=11)
+>>> read_formula(7)
+raises BadText(value=7)
+>>> from figurestay.sheet import Sheet
+>>> sheet = Sheet(Dialect(8, 0))
+>>> sheet.set_column("price", Column(4, 2))
+>>> sheet.set_column("pieces", Column(2, 0, "unsigned"))
+>>> sheet.set_formula("amount", read_formula("price * pieces"))
+>>> sheet.promise(("safe", "amount"))
+>>> sheet.drop("pieces")
+raises InUse(name='pieces')
+>>> sheet.set_formula("twice", read_formula("price * pieces + price * pieces"))
+>>> [sheet.holds(("safe", "twice")), sheet.holds(("equal", "twice", "amount")), sheet.undo(), sorted(sheet.formulas())]
+[False, False, True, ['amount']]
+>>> sheet.attempt(lambda it: [it.set_column("pieces", Column(3, 0)), it.set_column("price", Column(3, 2))])
+>>> [sheet.columns()["price"] == Column(3, 2), sheet.undo(), sheet.columns()["price"] == Column(4, 2)]
+[True, True, True]
+>>> sheet.set_formula("price", read_formula("pieces"))
+raises Taken(name='price')
+>>> sheet.promise(("safe", "amounts"))
+raises Unknown(name='amounts')
+>>> sheet.promise(("safe",))
+raises BadPromise(told=('safe',))
+>>> sheet.release(("safe", "amount"))
+>>> [sheet.promises(), sheet.undo(), sheet.promises()]
+[[], True, [('safe', 'amount')]]
 """
 
 
@@ -189,7 +253,7 @@ class Examples(unittest.TestCase):
             self.assertEqual(shown(line, names), wanted, line)
 
     def test_their_number(self):
-        self.assertEqual(len(cases(EXAMPLES)), 99)
+        self.assertEqual(len(cases(EXAMPLES)), 140)
 
 
 if __name__ == "__main__":

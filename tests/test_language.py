@@ -20,6 +20,8 @@ isdecimal add discard""".split())
 LIBRARY = {"heapq": {"heappush", "heappop", "heapify", "heapreplace", "heappushpop"},
            "math": {"gcd", "lcm", "isqrt", "comb", "perm", "factorial"},
            "itertools": {"product", "combinations", "permutations"}}
+# What a caller passes to be called.
+CALLED_PARAMETERS = ("action",)
 SPECIAL = set("""__init__ __eq__ __str__ __add__ __radd__ __sub__ __rsub__ __mul__ __rmul__ __neg__ __abs__""".split())
 STATEMENTS = (ast.Assign, ast.AugAssign, ast.If, ast.While, ast.For, ast.Return, ast.Break, ast.Continue, ast.Pass,
               ast.Raise, ast.Try, ast.Expr, ast.FunctionDef, ast.ClassDef, ast.ImportFrom)
@@ -188,7 +190,7 @@ class Language(unittest.TestCase):
             own |= names
         for node, at in self.each(ast.Call):
             if isinstance(node.func, ast.Name):
-                self.assertTrue(node.func.id in BUILTINS or node.func.id in own, at)
+                self.assertTrue(node.func.id in BUILTINS or node.func.id in own or node.func.id in CALLED_PARAMETERS, at)
                 if node.func.id in BUILTINS:
                     self.assertTrue({told.arg for told in node.keywords} <= {"key", "reverse", "default", "start"}, at)
             else:
@@ -288,9 +290,21 @@ class Language(unittest.TestCase):
     def test_own_errors_alone_are_caught(self):
         errors = {node.name for node in TREES["errors.py"].body if isinstance(node, ast.ClassDef)}
         for node, at in self.each(ast.Try):
-            self.assertFalse(node.finalbody, at)
+            self.check_finally(node.finalbody, at)
             for handler in node.handlers:
                 self.assertTrue(isinstance(handler.type, ast.Name) and handler.type.id in errors, at)
+
+    def check_finally(self, rows, at):
+        """Names are assigned to names and attributes, perhaps below a test whether a name is None."""
+        for node in rows:
+            if isinstance(node, ast.If):
+                self.assertTrue(isinstance(node.test, ast.Compare) and isinstance(node.test.left, ast.Name), at)
+                self.assertEqual([told.value for told in node.test.comparators], [None], at)
+                self.check_finally(node.body + node.orelse, at)
+                continue
+            self.assertIsInstance(node, ast.Assign, at)
+            self.assertIsInstance(node.value, ast.Name, at)
+            self.assertTrue(all(isinstance(told, (ast.Name, ast.Attribute)) for told in node.targets), at)
 
     def test_raise_creates_its_error_on_the_spot(self):
         errors = {node.name for node in TREES["errors.py"].body if isinstance(node, ast.ClassDef)}

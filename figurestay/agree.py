@@ -1,11 +1,12 @@
 """Whether two linear formulas agree, for the widths of their columns and for any widths."""
 
 from figurestay.basics import digits_of, ten_to
-from figurestay.drops import Drops, Reach, mixed, steps_of
+from figurestay.drops import Drops, steps_of
 from figurestay.errors import ColumnsDiffer
 from figurestay.extremes import with_all_names
 from figurestay.formulas import parts_of
 from figurestay.linear import need_linear, straights_of
+from figurestay.mixes import Reach, mixed
 from figurestay.shaped import need_shaped
 from figurestay.shapes import whole_figures
 from figurestay.strays import difference_of
@@ -86,13 +87,15 @@ def _enough_figures(shaped):
     for step, row in enumerate(shaped.formula.rows):
         long = max([longs[part] for part in parts_of(row)], default=0)
         if row[0] in ("product", "quotient"):
-            long = sum([longs[part] for part in parts_of(row)])
+            # One side is a Worth, or both are.
+            worths = [straights[part].rest_worth for part in parts_of(row) if len(straights[part].factors) == 0]
+            long = long + max([_figures_of(worth) for worth in worths])
         if len(straights[step].factors) == 0:
-            long = _figures_of(straights[step].rest_worth)
+            long = 0
         ahead = max(ahead, whole_figures(straights[step].rest_worth.units, straights[step].rest_worth.scale))
         longs.append(long)
     scale = max([columns[name].shape.scale for name in columns], default=0)
-    return scale + 4 * max(longs) + ahead + 30
+    return scale + 6 * max(longs) + ahead + 30
 
 
 def _figures_of(worth):

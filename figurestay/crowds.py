@@ -19,7 +19,8 @@ def rounding_gap(column, scale, way, many):
     for worth in worths:
         gap = rounded(worth * many, scale, way) - rounded(worth, scale, way) * many
         gaps.append((gap.units_at(scale), worth))
-    low, high = min(gaps, key=lambda told: told[0]), max(gaps, key=lambda told: told[0])
+    low = min(gaps, key=lambda told: told[0])
+    high = max(gaps, key=lambda told: told[0])
     return (Worth(low[0], scale), low[1]), (Worth(high[0], scale), high[1])
 
 

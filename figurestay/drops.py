@@ -1,44 +1,35 @@
 """Linear formulas as sums over their columns and over the results of the steps that drop places.
 
 What drops places is a variable of its own, with its number among all that do as its key; so all that is left between
-these results is linear. A column has its name as its key.
+these results is linear.
 """
 
+from figurestay.folds import folded, simplest
 from figurestay.formulas import parts_of
 from figurestay.linear import straights_of
+from figurestay.mixes import Mix, Reach, added, is_alike, mixed, result_at, times_worth, units_in
 from figurestay.ways import rounded
 from figurestay.worths import Worth, compare, inverse
 
 
-class Mix:
-    """A multiplier for each variable, none of them 0, and a rest."""
-
-    def __init__(self, factors, rest_worth):
-        self.factors = {key: factors[key] for key in factors if factors[key].units != 0}
-        self.rest_worth = rest_worth
-
-
 class Drop:
-    """A Mix that is rounded to a scale; its own results can have so many places."""
+    """A Mix that is rounded to a scale, with its Fold; its own results can have so many places."""
 
-    def __init__(self, mix, places, scale, way):
+    def __init__(self, mix, places, scale, way, fold):
         self.mix = mix
         self.places = places
         self.scale = scale
         self.way = way
+        self.fold = fold
 
-
-class Reach:
-    """The least and the greatest number of units of a scale that a variable can have."""
-
-    def __init__(self, low, high, scale):
-        self.low = low
-        self.high = high
-        self.scale = scale
-
-    def bounds(self):
-        """The least and the greatest Worth."""
-        return Worth(self.low, self.scale), Worth(self.high, self.scale)
+    def changes(self):
+        """The ends of what the rounding adds."""
+        one = Worth(1, self.scale)
+        if self.way == "floor":
+            return Worth(1, self.places) - one, Worth(0)
+        if self.way in ("cut", "away"):
+            return -one, one
+        return one * Worth(-5, 1), one * Worth(5, 1)
 
 
 class Drops:
@@ -49,26 +40,47 @@ class Drops:
         self.drops = []
 
     def rounded_mix(self, mix, scale, way):
-        """The Mix to which a Mix is rounded: the same one, a worth, or a variable."""
-        places = self.places_of(mix)
-        if places <= scale:
+        """The Mix to which a Mix is rounded: the same one, a worth, or one with another variable."""
+        if self.places_of(mix) <= scale:
             return mix
         if len(mix.factors) == 0:
             return Mix({}, rounded(mix.rest_worth, scale, way))
-        return Mix({self._key_of(Drop(mix, places, scale, way)): Worth(1)}, Worth(0))
+        mix, way = simplest(self, mix, scale, way)
+        if self.places_of(mix) <= scale:
+            return mix
+        fold = folded(self, mix, scale, way)
+        if len(fold.mix.factors) == 0:
+            return added(fold.more, rounded(fold.mix.rest_worth, scale, way) * fold.turn)
+        key = self._key_of(Drop(mix, self.places_of(mix), scale, way, fold))
+        known = self.drops[key].fold
+        # Both are the same multiple of what the folded Mix is rounded to, and something more.
+        turn = Worth(fold.turn * known.turn)
+        return mixed(mixed(fold.more, Mix({key: Worth(1)}, Worth(0)), turn), known.more, -turn)
 
     def places_of(self, mix):
         """How many places a Mix can have."""
-        scales = [unit_of(self.reaches[key], mix.factors[key]).scale for key in mix.factors]
-        return max(scales + [mix.rest_worth.scale])
+        return max([unit.scale for unit in units_in(self.reaches, mix)] + [mix.rest_worth.scale])
 
     def range_of(self, mix):
         """A Worth that a Mix is never below, and one that it is never above."""
+        low, high = self._sum_of_ends(mix)
+        # The same with what is rounded in the place of each result.
+        less = more = Worth(0)
+        for key in range(len(self.drops) - 1, -1, -1):
+            if key in mix.factors:
+                told, factor = self.drops[key], mix.factors[key]
+                one, other = _in_order([end * factor for end in told.changes()])
+                less, more = less + one, more + other
+                mix = mixed(mixed(mix, Mix({key: factor}, Worth(0)), Worth(-1)), told.mix, factor)
+        one, other = self._sum_of_ends(mix)
+        one, other = one + less, other + more
+        return (one if compare(one, low) > 0 else low), (other if compare(other, high) < 0 else high)
+
+    def _sum_of_ends(self, mix):
+        """The ends of a Mix if its variables were free within their Reaches."""
         low = high = mix.rest_worth
         for key in mix.factors:
-            one, other = [end * mix.factors[key] for end in self.reaches[key].bounds()]
-            if compare(one, other) > 0:
-                one, other = other, one
+            one, other = _in_order([end * mix.factors[key] for end in self.reaches[key].bounds()])
             low, high = low + one, high + other
         return low, high
 
@@ -78,9 +90,9 @@ class Drops:
         return rounded(result_at(told.mix, worths), told.scale, told.way)
 
     def _key_of(self, told):
-        """The key of a Drop; the same one if there is one alike."""
+        """The key of a Drop, or of one that folds alike if there is one."""
         for key, known in enumerate(self.drops):
-            if is_alike(told.mix, known.mix) and (told.scale, told.way) == (known.scale, known.way):
+            if is_alike(told.fold.mix, known.fold.mix) and (told.scale, told.way) == (known.scale, known.way):
                 return key
         self.drops.append(told)
         ends = [rounded(end, told.scale, told.way).units_at(told.scale) for end in self.range_of(told.mix)]
@@ -88,36 +100,10 @@ class Drops:
         return len(self.drops) - 1
 
 
-def column_reach(told):
-    """The Reach of a Column."""
-    scale = told.shape.scale
-    return Reach(told.lowest().units_at(scale), told.highest().units_at(scale), scale)
-
-
-def unit_of(reach, factor):
-    """What one unit of a variable comes to, times a multiplier."""
-    return factor * Worth(1, reach.scale)
-
-
-def is_alike(one, other):
-    """Whether two Mixes have the same multipliers and the same rest."""
-    return one.factors == other.factors and one.rest_worth == other.rest_worth
-
-
-def mixed(one, other, times):
-    """The Mix of one and of another one times a Worth."""
-    factors = dict(one.factors)
-    for key in other.factors:
-        factors[key] = factors.get(key, Worth(0)) + other.factors[key] * times
-    return Mix(factors, one.rest_worth + other.rest_worth * times)
-
-
-def result_at(mix, worths):
-    """What a Mix comes to at the worths of its variables."""
-    result = mix.rest_worth
-    for key in mix.factors:
-        result = result + worths[key] * mix.factors[key]
-    return result
+def _in_order(ends):
+    """Two Worths, the lesser one first."""
+    one, other = ends
+    return (one, other) if compare(one, other) <= 0 else (other, one)
 
 
 class Steps:
@@ -158,16 +144,16 @@ def _result_of(shaped, step, raw, drops):
 
 def _raw_mix(row, parts, straights):
     """What a step in which a column stands makes of its parts."""
-    word, zero = row[0], Mix({}, Worth(0))
+    word = row[0]
     if word == "column":
         return Mix({row[1]: Worth(1)}, Worth(0))
     if word in ("sum", "difference"):
         return mixed(parts[0], parts[1], Worth(1 if word == "sum" else -1))
     if word == "quotient":
-        return mixed(zero, parts[0], inverse(straights[1].rest_worth))
+        return times_worth(parts[0], inverse(straights[1].rest_worth))
     if word == "product":
         one, other = parts
         if len(straights[0].factors) == 0:
             one, other = other, one
-        return mixed(zero, one, other.rest_worth)
-    return mixed(zero, parts[0], Worth(-1 if word == "negative" else 1))
+        return times_worth(one, other.rest_worth)
+    return times_worth(parts[0], Worth(-1 if word == "negative" else 1))

@@ -1,12 +1,13 @@
 """The least and the greatest results of the steps of linear formulas, and what happens to them for some worths."""
 
-from figurestay.drops import Drops, column_reach, mixed, steps_of
+from figurestay.drops import Drops, steps_of
 from figurestay.errors import CanOver
 from figurestay.formulas import need_step, parts_of
 from figurestay.linear import need_linear, straights_of
+from figurestay.mixes import Mix, column_reach, mixed
 from figurestay.shaped import need_shaped
 from figurestay.shapes import is_below_ten_to
-from figurestay.tops import greatest_of, least_of
+from figurestay.tops import greatest_of, least_of, some_not_0
 from figurestay.worked import result_of_step
 from figurestay.worths import Worth
 
@@ -29,11 +30,8 @@ def losing(shaped, step):
     drops, steps = _steps_up_to(shaped, step)
     if shaped.formula.part(step).names() == ():
         return with_all_names(shaped, {}) if _is_changed_alone(shaped, step) else None
-    lost = mixed(steps.raws[step], steps.results[step], Worth(-1))
-    for worth, worths in ends_of(shaped, drops, lost):
-        if worth.sign() != 0:
-            return worths
-    return None
+    worths = some_not_0(drops, mixed(steps.raws[step], steps.results[step], Worth(-1)))
+    return None if worths is None else with_all_names(shaped, worths)
 
 
 def drops_of(shaped):
@@ -75,13 +73,18 @@ def with_all_names(shaped, worths):
 
 def _first_over_of(shaped, drops, steps, many):
     """The first of so many steps that is over for some worths, and such worths; None if there is none."""
+    known = []
     for step, result in enumerate(steps.results[:many]):
         whole = shaped.shapes[step].whole
         # Where even the bounds fit, the ends need not be known.
         if all([is_below_ten_to(worth, whole) for worth in drops.range_of(result)]):
             continue
-        for worth, worths in ends_of(shaped, drops, result):
-            if not is_below_ten_to(worth, whole):
+        ends = [told for factors, told in known if factors == result.factors]
+        if len(ends) == 0:
+            ends = [ends_of(shaped, drops, Mix(result.factors, Worth(0)))]
+            known.append((result.factors, ends[0]))
+        for worth, worths in ends[0]:
+            if not is_below_ten_to(worth + result.rest_worth, whole):
                 return step, worths
     return None
 

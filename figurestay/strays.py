@@ -1,8 +1,9 @@
 """How far results can be from straight results, and from those of another formula."""
 
-from figurestay.drops import mixed, steps_of, straight_mix
+from figurestay.drops import steps_of, straight_mix
 from figurestay.extremes import drops_of, ends_of, need_fitting
 from figurestay.linear import need_linear
+from figurestay.mixes import mixed
 from figurestay.shaped import need_same_columns, need_shaped
 from figurestay.worths import Worth
 

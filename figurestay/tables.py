@@ -77,9 +77,9 @@ def exchange(table, number, place, end):
         if by == 0:
             made.append([cell * divisor // old for cell in cells])
         else:
-            cells = [(cell * divisor - by * more) // old for cell, more in zip(cells, row)]
-            cells[place] = by
-            made.append(cells)
+            changed = [(cell * divisor - by * more) // old for cell, more in zip(cells, row)]
+            changed[place] = by
+            made.append(changed)
     table.cells = made
     table.divisor = divisor
     table.standing[place] = number

@@ -1,22 +1,14 @@
 """The greatest and the least worth of a Mix over all worths of the columns."""
 
 from figurestay.basics import ten_to
-from figurestay.drops import Mix, mixed, result_at, unit_of
+from figurestay.folds import SIDES
+from figurestay.mixes import is_of_result, result_at, sorted_keys, times_worth, unit_of
 from figurestay.peaks import any_point, greatest_point
 from figurestay.tables import Line
 from figurestay.worths import Worth
 
-# What each way does to results from 0 on and to those up to 0; the same if their sign does not matter.
-SIDES = {
-    "floor": ("floor", "floor"),
-    "ceiling": ("ceiling", "ceiling"),
-    "cut": ("floor", "ceiling"),
-    "away": ("ceiling", "floor"),
-    "halfup": ("halfup", "halfup"),
-    "halfdown": ("halfdown", "halfdown"),
-    "halfaway": ("halfup", "halfdown"),
-    "halfcut": ("halfdown", "halfup"),
-}
+# So many choices of worths are tried ahead of a search; a prime number, so that no two columns go in step.
+TRIES = 29
 
 
 class Case:
@@ -45,14 +37,14 @@ class Program:
 
 def least_of(drops, mix):
     """The least worth of a Mix, and worths of the columns that matter at which it occurs."""
-    worth, worths = greatest_of(drops, mixed(Mix({}, Worth(0)), mix, Worth(-1)))
+    worth, worths = greatest_of(drops, times_worth(mix, Worth(-1)))
     return -worth, worths
 
 
 def greatest_of(drops, mix):
     """The greatest worth of a Mix, and worths of the columns that matter at which it occurs."""
     program = Program(drops, mix)
-    worths = {key: drops.reaches[key].bounds()[1] for key in program.needed if isinstance(key, str)}
+    worths = {key: drops.reaches[key].bounds()[1] for key in program.needed if not is_of_result(key)}
     better = _worths_above(program, _units_at(program, worths), True)
     if better is not None:
         worths = better
@@ -61,23 +53,40 @@ def greatest_of(drops, mix):
 
 def some_not_0(drops, mix):
     """Worths of the columns that matter at which a Mix is not 0; None if it is always 0."""
-    worths = _worths_above(Program(drops, mix), 0, False)
+    program = Program(drops, mix)
+    # What is not always 0 is mostly found by trying a few worths.
+    for number in range(TRIES):
+        worths = _spread_worths(program, number)
+        if _units_at(program, worths) != 0:
+            return worths
+    worths = _worths_above(program, 0, False)
     if worths is None:
-        worths = _worths_above(Program(drops, mixed(Mix({}, Worth(0)), mix, Worth(-1))), 0, False)
+        worths = _worths_above(Program(drops, times_worth(mix, Worth(-1))), 0, False)
+    return worths
+
+
+def _spread_worths(program, number):
+    """One of the choices of worths that are spread over those of the columns, the least ones first."""
+    worths = {}
+    for place, key in enumerate(program.needed):
+        if not is_of_result(key):
+            reach = program.drops.reaches[key]
+            part = number * (7 * place + 1) % TRIES
+            worths[key] = Worth(reach.low + (reach.high - reach.low) * part // (TRIES - 1), reach.scale)
     return worths
 
 
 def _worths_above(program, units, to_the_end):
     """Worths at which the Mix is more than so many units, at the end the greatest ones; None if there are none."""
     best = None
-    waiting = [{key: _cases_of(program.drops, key) for key in program.needed if not isinstance(key, str)}]
+    waiting = [{key: _cases_of(program.drops, key) for key in program.needed if is_of_result(key)}]
     while len(waiting) > 0:
         cases = waiting.pop()
         # All rounding is left open that the cases leave open; so what is found can be too great, never too little.
         found = _open_point(program, cases, units, to_the_end)
         if found is None:
             continue
-        worths = {key: found[key] for key in found if isinstance(key, str)}
+        worths = {key: found[key] for key in found if not is_of_result(key)}
         if _units_at(program, worths) > units:
             best, units = worths, _units_at(program, worths)
             if not to_the_end:
@@ -95,8 +104,7 @@ def _keys_behind(drops, mix):
     for key in range(len(drops.drops) - 1, -1, -1):
         if key in needed:
             needed = {**needed, **{other: True for other in drops.drops[key].mix.factors}}
-    names = sorted([key for key in needed if isinstance(key, str)])
-    return names + sorted([key for key in needed if not isinstance(key, str)])
+    return sorted_keys(needed)
 
 
 def _units_at(program, worths):
@@ -109,14 +117,14 @@ def _results_at(drops, worths, keys):
     """The Worths of the variables with these keys at the worths of the columns."""
     found = dict(worths)
     for key in keys:
-        if not isinstance(key, str):
+        if is_of_result(key):
             found[key] = drops.result_of(key, found)
     return found
 
 
 def _first_wrong(drops, found, worths):
     """The first drop that is not found as its worths would have it, or None."""
-    keys = [key for key in found if not isinstance(key, str)]
+    keys = [key for key in found if is_of_result(key)]
     results = _results_at(drops, worths, keys)
     for key in keys:
         if results[key] != found[key]:
@@ -129,6 +137,8 @@ def _cases_of(drops, key):
     told = drops.drops[key]
     one = ten_to(told.places - told.scale)
     half = one // 2
+    if told.way == "floor":
+        return [Case(0, one - 1, 0, 1)]
     if told.way == "halfeven":
         return [Case(1 - half, half - 1, 0, 1), Case(-half, half, 0, 2)]
     bounds = {
@@ -137,13 +147,8 @@ def _cases_of(drops, key):
         "halfup": (-half, half - 1),
         "halfdown": (1 - half, half),
     }
-    above, below = SIDES[told.way]
-    low, high = drops.range_of(told.mix)
-    if above == below or low.sign() >= 0:
-        return [Case(bounds[above][0], bounds[above][1], 0, 1)]
-    if high.sign() <= 0:
-        return [Case(bounds[below][0], bounds[below][1], 0, 1)]
-    return [Case(bounds[above][0], bounds[above][1], 1, 1), Case(bounds[below][0], bounds[below][1], -1, 1)]
+    above, below = [bounds[way] for way in SIDES[told.way]]
+    return [Case(above[0], above[1], 1, 1), Case(below[0], below[1], -1, 1)]
 
 
 def _open_point(program, cases, units, to_the_end):
@@ -153,7 +158,7 @@ def _open_point(program, cases, units, to_the_end):
     lines, more = [], []
     for place, key in enumerate(keys):
         own = [steps[place] if place == other else 0 for other in range(len(keys))]
-        if isinstance(key, str):
+        if not is_of_result(key):
             lines.append(Line(own, reaches[key].low, reaches[key].high))
         else:
             lines.append(_dropped_line(program, key, cases[key], steps, own))

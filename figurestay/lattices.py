@@ -75,6 +75,12 @@ def unit_basis(many):
     return Basis(units, units)
 
 
+def without_vector(basis, place):
+    """The Basis without the vector in this place, and without the form that tells its multiples."""
+    vectors, forms = basis.vectors, basis.forms
+    return Basis(vectors[:place] + vectors[place + 1:], forms[:place] + forms[place + 1:])
+
+
 def unit_forms(many):
     """For each of so many variables the form that is this variable."""
     return [[1 if place == other else 0 for other in range(many)] for place in range(many)]

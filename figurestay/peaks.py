@@ -2,8 +2,8 @@
 
 from math import isqrt
 
-from figurestay.lattices import inner, shortened, unit_basis
-from figurestay.tables import GOAL, Line, add_line, copied, first_table, settle, size_of
+from figurestay.lattices import inner, shortened, unit_basis, without_vector
+from figurestay.tables import Line, copied, draw_in, first_table, height_of, point_of, settle, with_line
 
 
 def greatest_point(goal, lines, least):
@@ -14,7 +14,7 @@ def greatest_point(goal, lines, least):
     table = first_table(goal, lines)
     if not settle(table, least):
         return None
-    bound = size_of(table, GOAL) // table.divisor
+    bound = height_of(table) // table.divisor
     # No point is as near to the bound as empty; one that is nearer than the one that is found is within top.
     empty, top, found = -1, bound - least - 1, None
     while empty < top:
@@ -45,45 +45,41 @@ def _last_point(table, many, least, to_the_end):
         table, basis = waiting.pop()
         if not settle(table, least):
             continue
-        point = [size_of(table, 1 + place) for place in range(many)]
+        point = point_of(table)
         if all([size % table.divisor == 0 for size in point]):
-            best, least = [size // table.divisor for size in point], size_of(table, GOAL) // table.divisor
+            best, least = [size // table.divisor for size in point], height_of(table) // table.divisor
             if not to_the_end:
                 return best
             continue
-        basis = shortened(basis, [table.lines[number].form for number in table.standing], _weights(table, least))
-        for branch in _branches(table, basis):
-            waiting.append((branch, basis))
+        draw_in(table, least)
+        basis = shortened(basis, [table.lines[number].form for number in table.standing], _weights(table))
+        waiting.extend(_branches(table, point, basis))
     return best
 
 
-def _weights(table, least):
+def _weights(table):
     """The weight of each standing line: the less it can give way, the more it counts."""
-    room = size_of(table, GOAL) - (least + 1) * table.divisor
     sizes = []
-    for place, number in enumerate(table.standing):
-        line, loss = table.lines[number], abs(table.cells[GOAL][place])
-        size = None
-        if line.low is not None and line.high is not None:
-            size = line.high - line.low
-        if loss > 0 and (size is None or room // loss < size):
-            size = room // loss
-        sizes.append(size)
+    for number in table.standing:
+        line = table.lines[number]
+        sizes.append(None if line.low is None or line.high is None else line.high - line.low)
     most = max([size for size in sizes if size is not None], default=0)
     return [64 * (most + 1) // ((most if size is None else size) + 1) for size in sizes]
 
 
-def _branches(table, basis):
-    """Two tables without the point at which the table stands, but with all integer points; the nearer one last."""
-    for form in reversed(basis.forms):
-        add_line(table, Line(form))
-        number = len(table.lines) - 1
-        below, left = divmod(size_of(table, number), table.divisor)
+def _branches(table, point, basis):
+    """Tables, with their bases, without the point at which the table stands, but with all integer points.
+
+    Those with the points on the nearest layers come last, the nearest one at the end; a layer has one vector less.
+    """
+    for place in range(len(basis.forms) - 1, -1, -1):
+        form = basis.forms[place]
+        below, left = divmod(inner(form, point), table.divisor)
         if left != 0:
             break
-        table.lines.pop()
-        table.cells.pop()
-    other = copied(table)
-    table.lines[number] = Line(form, high=below)
-    other.lines[number] = Line(form, low=below + 1)
-    return [table, other] if 2 * left >= table.divisor else [other, table]
+    layer = without_vector(basis, place)
+    lines = [(Line(form, low=below + 2), basis), (Line(form, high=below - 1), basis)]
+    near = [(Line(form, below + 1, below + 1), layer), (Line(form, below, below), layer)]
+    if 2 * left >= table.divisor:
+        lines, near = [lines[1], lines[0]], [near[1], near[0]]
+    return [(with_line(table, line), told) for line, told in lines + near]

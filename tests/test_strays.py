@@ -15,6 +15,7 @@ from figurestay.errors import BadValue, CanOver, ColumnsDiffer, NotLinear
 from figurestay.exacts import unlike
 from figurestay.formulas import constant
 from figurestay.linear import multipliers, rest
+from figurestay.reader import read_formula
 from figurestay.shaped import Shaped
 from figurestay.shapes import Column
 from figurestay.strays import apart, stray
@@ -29,6 +30,29 @@ def last(shaped, worths):
 
 def is_shaped(value):
     return isinstance(value, Shaped)
+
+
+# Columns and pairs of formulas with four drops each, and the ends of what they are apart.
+UNLIKE = [
+    ({"a": (3, 27), "b": (13, 7, "unsigned"), "c": (25, 5)},
+     "round(a*0.13+b*0.01-c*0.17+(round(a*0.03+b*0.13-c*0.19,3,halfeven)-round(a*0.17+59970,2,halfeven)"
+     "+round(a*0.01-b*0.17-c*0.13,0,halfeven)),1,halfeven)",
+     "round(a*0.11+b*0.13-c*0.19+0.412168+round(a*0.17+b*0.02+c*0.05+(round(a*0.05-b*0.11+c*0.03,22,halfeven)"
+     "-round(a*0.11+b*0.07-c*0.05,2,halfeven)),3,halfeven),0,halfeven)",
+     ["-4300000000000000000060191.4", "4299999999999999999940250.6"]),
+    ({"a": (24, 6), "b": (16, 4, "unsigned"), "c": (6, 24)},
+     "round(a*0.2-b*0.5-c*0.3+411289+(round(a*0.2-b*1.9-c*0.3-round(a*0.7+b*0.7-c*1.3+76.14,2,halfaway),2,halfeven)"
+     "-round(a*1.9+b*1.7-c*1.9,11,halfaway)),1,halfaway)",
+     "round(a*2.3-b*1.1-c*1.3+32645.8+(round(a*2.3+b*1.3+c*1.1,4,halfaway)-round(a*1.3-b*1.3+c*0.2,18,halfaway)),1,"
+     "halfeven)-round(a*0.5+b*0.5+c*1.3,1,halfaway)",
+     ["-5000000058000000003921432.9", "5000000000000000004678567.1"]),
+    ({"a": (17, 13), "b": (7, 23, "unsigned"), "c": (11, 9)},
+     "round(a*9-b*11+c*5-(round(a*7-b*19,2,halfeven)-round(a*17-b*3+c*11+92988.2,3,halfeven)"
+     "-round(a*13+b*9+c*23,3,halfeven)),2,halfeven)",
+     "round(a*23-b*23+c*11+round(a*17+b*9-c*9,4,halfeven),3,halfeven)-round(a*9-b*7+c*1,2,halfeven)"
+     "+round(a*1-b*1+c*7,0,halfeven)",
+     ["-3099999907012.309", "3100220092988.709"]),
+]
 
 
 class WithSmallColumns(WithAllWorths):
@@ -276,6 +300,24 @@ class Widths(WithSmallColumns):
         self.assertIsNone(parting(one, one.with_formula(early * 1)))
         self.assertIsNone(parting_widths(one, one.with_formula(1 * early + 0)))
         self.assertLess(time.time() - began, 10)
+
+    def test_four_drops_in_each_of_two_formulas_that_have_nothing_in_common(self):
+        began = time.time()
+        for columns, one, other, ends in UNLIKE:
+            columns = {name: Column(*told) for name, told in columns.items()}
+            pair = [Shaped(read_formula(text), columns, Dialect(200, 0)) for text in (one, other)]
+            found = apart(*pair)
+            self.assertEqual(texts(found), ends)
+            for worth, worths in found:
+                self.holds_all(pair[0], worths)
+                self.assertEqual(work(pair[0], worths).result - work(pair[1], worths).result, worth)
+            self.assertEqual([-worth for worth, _ in apart(*pair[::-1])], [worth for worth, _ in found[::-1]])
+            for shaped in pair:
+                for worth, worths in stray(shaped):
+                    self.assertEqual(fraction(worth), last(shaped, worths) - straight_result(shaped, worths))
+            self.assertIsNotNone(parting(*pair))
+            self.assertIsNone(parting_widths(pair[0], pair[0].with_formula(0 + pair[0].formula)))
+        self.assertLess(time.time() - began, 15)
 
     def test_ways_that_are_alike_from_0_on(self):
         pairs = (("cut", "floor"), ("away", "ceiling"), ("halfaway", "halfup"), ("halfcut", "halfdown"))

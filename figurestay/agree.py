@@ -30,19 +30,27 @@ def parting_widths(one, other):
     need_linear(other)
     columns = one.columns()
     standing = {name: columns[name] for name in one.formula.names() + other.formula.names()}
-    few = 1 if any([standing[name].mark == "positive" for name in standing]) else 0
-    many = max(_enough_figures(one), _enough_figures(other))
-    if _parting_with(one, other, standing, many) is None:
-        return None
+    enough = max(_enough_figures(one), _enough_figures(other))
+    few, many, worths = 1 if any([standing[name].mark == "positive" for name in standing]) else 0, enough + 1, None
+    # Mostly a few figures more than the scales are enough.
+    middle = min(enough, few + 3 + max([standing[name].shape.scale for name in standing], default=0))
     # With more figures the worths with fewer ones are still there.
     while few < many:
-        middle = (few + many) // 2
-        if _parting_with(one, other, standing, middle) is None:
-            few = middle + 1
+        found = _parting_with(one, other, standing, middle)
+        if found is not None:
+            many, worths = _figures_in(found, standing), found
+        elif middle == enough:
+            return None
         else:
-            many = middle
-    worths = {name: columns[name].small()[0] for name in columns}
-    return many, {**worths, **_parting_with(one, other, standing, many)}
+            few = middle + 1
+        middle = enough if worths is None else (few + many) // 2
+    return many, {**{name: columns[name].small()[0] for name in columns}, **worths}
+
+
+def _figures_in(worths, columns):
+    """The figures of the widest of some worths, each at the scale of its column."""
+    units = [abs(worths[name].units_at(columns[name].shape.scale)) for name in worths]
+    return max([0 if number == 0 else len(digits_of(number)) for number in units], default=0)
 
 
 def _need_same_scales(one, other):
@@ -64,7 +72,7 @@ def _parting_with(one, other, standing, figures):
     worths = some_not_0(drops, difference)
     if worths is None:
         return None
-    return {**{name: drops.reaches[name].bounds()[0] for name in standing}, **worths}
+    return {**{name: standing[name].small()[0] for name in standing}, **worths}
 
 
 def _wide_reach(told, figures):

@@ -1,12 +1,4 @@
-"""Bases of the integer points of a space, made short as some forms measure them."""
-
-
-class Basis:
-    """Vectors of which each integer point is one sum of multiples, and the forms that tell these multiples."""
-
-    def __init__(self, vectors, forms):
-        self.vectors = vectors
-        self.forms = forms
+"""Vectors of integers of which all integer points are sums, made short as some forms measure them."""
 
 
 class Gram:
@@ -69,52 +61,36 @@ def inner(one, other):
     return sum([number * more for number, more in zip(one, other)])
 
 
-def unit_basis(many):
-    """The Basis of so many variables themselves."""
-    units = unit_forms(many)
-    return Basis(units, units)
-
-
-def without_vector(basis, place):
-    """The Basis without the vector in this place, and without the form that tells its multiples."""
-    vectors, forms = basis.vectors, basis.forms
-    return Basis(vectors[:place] + vectors[place + 1:], forms[:place] + forms[place + 1:])
-
-
-def unit_forms(many):
-    """For each of so many variables the form that is this variable."""
+def unit_vectors(many):
+    """So many vectors, each with a 1 in a place of its own and 0 in all others."""
     return [[1 if place == other else 0 for other in range(many)] for place in range(many)]
 
 
-def shortened(basis, forms, weights):
-    """A Basis whose vectors are short, if each of as many forms as there are variables counts with its weight."""
-    images = [
-        [weight * inner(form, vector) for form, weight in zip(forms, weights)] for vector in basis.vectors
-    ]
+def short_vectors(forms, weights):
+    """Vectors of which each integer point is one sum of multiples; short, if each form counts with its weight.
+
+    The forms tell all variables.
+    """
+    vectors = unit_vectors(len(forms[0]))
+    images = [[weight * form[place] for form, weight in zip(forms, weights)] for place in range(len(vectors))]
     gram = Gram(images)
-    made = Basis(list(basis.vectors), list(basis.forms))
     at = 1
-    while at < len(images):
-        _shorten(made, gram, at, at - 1)
+    while at < len(vectors):
+        _shorten(vectors, gram, at, at - 1)
         if gram.is_too_short(at):
             gram.swap(at)
-            made.vectors[at - 1], made.vectors[at] = made.vectors[at], made.vectors[at - 1]
-            made.forms[at - 1], made.forms[at] = made.forms[at], made.forms[at - 1]
+            vectors[at - 1], vectors[at] = vectors[at], vectors[at - 1]
             at = max(1, at - 1)
             continue
         for other in range(at - 2, -1, -1):
-            _shorten(made, gram, at, other)
+            _shorten(vectors, gram, at, other)
         at += 1
-    return made
+    return vectors
 
 
-def _shorten(basis, gram, at, other):
+def _shorten(vectors, gram, at, other):
     """Take off a vector what makes it lean least on another one."""
     times = gram.leaning(at, other)
-    if times == 0:
-        return
-    gram.shift(at, other, times)
-    taken = basis.vectors[other]
-    basis.vectors[at] = [number - times * less for number, less in zip(basis.vectors[at], taken)]
-    added = basis.forms[at]
-    basis.forms[other] = [number + times * more for number, more in zip(basis.forms[other], added)]
+    if times != 0:
+        gram.shift(at, other, times)
+        vectors[at] = [number - times * less for number, less in zip(vectors[at], vectors[other])]

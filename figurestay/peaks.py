@@ -1,85 +1,167 @@
-"""Integer programs: the integer point with the greatest worth of a goal while some lines keep their bounds."""
+"""Integer programs: whether a Region has points, and where.
 
-from math import isqrt
+What is seen of a Region is how far it reaches along each of its short vectors. Where it is thin it falls into few
+layers, each with a vector less; where it is thin along no vector there is mostly a point in its middle.
+"""
 
-from figurestay.lattices import inner, shortened, unit_basis, without_vector
-from figurestay.tables import Line, copied, draw_in, first_table, height_of, point_of, settle, with_line
+from figurestay.lattices import inner, unit_vectors
+from figurestay.regions import Region, in_short_vectors, layer, stretch, tidied
+from figurestay.tables import Line, first_table, rough_span, top_of
+
+# With so many layers all are looked at; with more of them, the middle one and what lies on its two sides.
+FEW_LAYERS = 8
+
+# With at least so many layers beside the first one along each vector it is worth the work to draw the lines in.
+WORTH_DRAWING = 2
+
+# Averages of points are told in such parts of a unit.
+FINE = 100000000000000000000
+
+# How much nearer than the middle the points lie that are tried on the way from a top to the middle, the nearest first.
+SHARES = (1000000000000, 10000000000, 100000000, 1000000, 10000, 100, 10, 4, 2, 1)
 
 
-def greatest_point(goal, lines, least):
-    """The integer point with the greatest worth of the goal, if that is more than the least one; otherwise None.
+class View:
+    """A Region told with short vectors, its Table, the least and greatest number of each vector, and its middle."""
 
-    The first lines, as many as there are variables, have both bounds and tell all variables.
-    """
-    table = first_table(goal, lines)
-    if not settle(table, least):
+    def __init__(self, region, table, spans, middle):
+        self.region = region
+        self.table = table
+        self.spans = spans
+        self.middle = middle
+
+    def thinnest(self):
+        """The place of the vector with the fewest layers."""
+        return min(range(len(self.spans)), key=lambda place: _room_of(self.spans[place]))
+
+    def is_thin(self):
+        """Whether the layers along some vector are few."""
+        return min([_room_of(span) for span in self.spans]) < FEW_LAYERS
+
+    def point(self):
+        """The point in the middle; None if it is not in the Region."""
+        numbers = [_nearest(part, FINE) for part in self.middle]
+        return self.region.point(numbers) if self.region.holds(numbers) else None
+
+    def point_below_top(self, goal):
+        """A point on the way from the greatest worth of a goal to the middle; None if none that is tried is there."""
+        if len(self.spans) == 0:
+            return self.point()
+        top = top_of(self.table, [inner(goal, vector) for vector in self.region.vectors])
+        ends = [FINE * size // top.divisor for size in top.sizes]
+        for share in SHARES:
+            sums = [end * (share - 1) + part for end, part in zip(ends, self.middle)]
+            numbers = [_nearest(total, FINE * share) for total in sums]
+            if self.region.holds(numbers):
+                return self.region.point(numbers)
         return None
-    bound = height_of(table) // table.divisor
-    # No point is as near to the bound as empty; one that is nearer than the one that is found is within top.
-    empty, top, found = -1, bound - least - 1, None
-    while empty < top:
-        # A basis shows soonest what is there if it is made for points about as near as the nearest one.
-        gap = min((empty + 1) * 1000, top)
-        if found is not None:
-            gap = isqrt((empty + 1) * (top + 1))
-        if found is not None and (gap <= empty or top <= 8 * (empty + 1)):
-            return _last_point(table, len(goal), bound - top - 1, True) or found
-        point = _last_point(table, len(goal), bound - gap - 1, False)
-        if point is None:
-            empty = gap
+
+
+def view_of(region):
+    """The View of a Region; None if it is seen to have no points."""
+    is_drawn = False
+    while True:
+        region = tidied(region)
+        if region is None:
+            return None
+        if len(region.vectors) == 0:
+            return View(region, None, [], [])
+        region = in_short_vectors(region)
+        table = first_table(region.lines, len(region.vectors))
+        spans = [rough_span(table, place) for place in range(len(region.vectors))]
+        view = View(region, table, spans, None)
+        if min([_room_of(span) for span in spans]) > 0:
+            view = _seen(region, table)
+            if view is None:
+                return None
+        room = min([_room_of(span) for span in view.spans])
+        if room < 0:
+            return None
+        if room == 0:
+            region, is_drawn = _without_single_layers(view), False
+        elif room < WORTH_DRAWING or is_drawn:
+            return view
         else:
-            found, top = point, bound - inner(goal, point) - 1
-    return found
+            region, is_drawn = _drawn_in(region, table), True
 
 
-def any_point(goal, lines, least):
-    """An integer point at which the goal is more than the least one; None if there is none."""
-    table = first_table(goal, lines)
-    return _last_point(table, len(goal), least, False)
+def smaller_regions(view):
+    """Regions that together have all points of a View that is not a single point; the one near the middle is last."""
+    place = view.thinnest()
+    low, high = view.spans[place]
+    middle = max(low, min(high, _nearest(view.middle[place], FINE)))
+    if view.is_thin():
+        numbers = sorted(range(low, high + 1), key=lambda number: abs(number - middle))
+        return [layer(view.region, place, number) for number in numbers[::-1]]
+    sides = [stretch(view.region, place, low, middle - 1), stretch(view.region, place, middle + 1, high)]
+    return sides + [layer(view.region, place, middle)]
 
 
-def _last_point(table, many, least, to_the_end):
-    """The first integer point that is found with a goal above the least one, or, to the end, the greatest; or None."""
-    best, waiting = None, [(copied(table), unit_basis(many))]
+def any_point(region):
+    """A point of a Region; None if it has none."""
+    waiting = [region]
     while len(waiting) > 0:
-        table, basis = waiting.pop()
-        if not settle(table, least):
+        view = view_of(waiting.pop())
+        if view is None:
             continue
-        point = point_of(table)
-        if all([size % table.divisor == 0 for size in point]):
-            best, least = [size // table.divisor for size in point], height_of(table) // table.divisor
-            if not to_the_end:
-                return best
-            continue
-        draw_in(table, least)
-        basis = shortened(basis, [table.lines[number].form for number in table.standing], _weights(table))
-        waiting.extend(_branches(table, point, basis))
-    return best
+        point = view.point()
+        if point is not None:
+            return point
+        waiting.extend(smaller_regions(view))
+    return None
 
 
-def _weights(table):
-    """The weight of each standing line: the less it can give way, the more it counts."""
-    sizes = []
-    for number in table.standing:
-        line = table.lines[number]
-        sizes.append(None if line.low is None or line.high is None else line.high - line.low)
-    most = max([size for size in sizes if size is not None], default=0)
-    return [64 * (most + 1) // ((most if size is None else size) + 1) for size in sizes]
+def _room_of(span):
+    low, high = span
+    return high - low
 
 
-def _branches(table, point, basis):
-    """Tables, with their bases, without the point at which the table stands, but with all integer points.
+def _seen(region, table):
+    """The View of a Region with this Table; None if it is empty."""
+    units = unit_vectors(len(region.vectors))
+    spans, tops = [], []
+    for unit in units:
+        ends = _ends_of(table, unit)
+        if ends is None:
+            return None
+        low, high = ends
+        spans.append((-low.worth, high.worth))
+        tops.extend(ends)
+    return View(region, table, spans, [_average(tops, place) for place in range(len(units))])
 
-    Those with the points on the nearest layers come last, the nearest one at the end; a layer has one vector less.
-    """
-    for place in range(len(basis.forms) - 1, -1, -1):
-        form = basis.forms[place]
-        below, left = divmod(inner(form, point), table.divisor)
-        if left != 0:
-            break
-    layer = without_vector(basis, place)
-    lines = [(Line(form, low=below + 2), basis), (Line(form, high=below - 1), basis)]
-    near = [(Line(form, below + 1, below + 1), layer), (Line(form, below, below), layer)]
-    if 2 * left >= table.divisor:
-        lines, near = [lines[1], lines[0]], [near[1], near[0]]
-    return [(with_line(table, line), told) for line, told in lines + near]
+
+def _ends_of(table, form):
+    """The Tops of a form and of its negative, the latter first; None if the lines of the Table cannot be kept."""
+    high = top_of(table, form)
+    if high is None:
+        return None
+    return top_of(table, [-number for number in form]), high
+
+
+def _average(tops, place):
+    """The average of a variable at some Tops, in fine parts."""
+    return sum([FINE * top.sizes[place] // top.divisor for top in tops]) // len(tops)
+
+
+def _nearest(number, divisor):
+    """The integer next to a fraction."""
+    return (2 * number + divisor) // (2 * divisor)
+
+
+def _without_single_layers(view):
+    """The Region of a View, on all its single layers."""
+    region = view.region
+    for place in range(len(view.spans) - 1, -1, -1):
+        low, high = view.spans[place]
+        if low == high:
+            region = layer(region, place, low)
+    return region
+
+
+def _drawn_in(region, table):
+    """The same Region, with bounds that are as near to each other as its points without integers allow."""
+    lines = []
+    for line in region.lines:
+        low, high = _ends_of(table, line.form)
+        lines.append(Line(line.form, -low.worth, high.worth))
+    return Region(region.offset, region.vectors, lines)

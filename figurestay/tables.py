@@ -1,6 +1,6 @@
 """Linear programs in integers: the greatest worth of a goal while some lines keep their bounds."""
 
-from figurestay.lattices import inner, unit_forms
+from figurestay.lattices import inner, unit_vectors
 
 
 class Line:
@@ -11,67 +11,77 @@ class Line:
         self.low = low
         self.high = high
 
+    def room(self):
+        """How far the bounds are from each other; None if one is missing."""
+        return None if self.low is None or self.high is None else self.high - self.low
+
+    def holds(self, size):
+        """Whether a worth of the form is within the bounds."""
+        return (self.low is None or self.low <= size) and (self.high is None or size <= self.high)
+
 
 class Table:
-    """A goal and lines; as many lines as there are variables stand at one of their ends, and so tell a point.
+    """Lines; as many of them as there are variables stand at one of their ends, and so tell a point.
 
-    Each row, divided by the divisor, tells how much of each standing line goes into a variable, or into the goal.
+    Each row, divided by the divisor, tells how much of each standing line goes into a variable, or into a goal.
     """
 
-    def __init__(self, goal, lines, rows, goal_row, divisor, standing, ends):
-        self.goal = goal
+    def __init__(self, lines, rows, divisor, standing):
         self.lines = lines
         self.rows = rows
-        self.goal_row = goal_row
         self.divisor = divisor
         self.standing = standing
-        self.ends = ends
+        self.goal_row = [0] * len(rows)
+        self.ends = [0] * len(rows)
 
 
-def first_table(goal, lines):
-    """The Table in which the first lines, as many as there are variables, stand at the ends that are best for the goal.
+class Top:
+    """The greatest worth of a goal, rounded down, and the point that has it, times a divisor."""
 
-    These lines have both bounds, and tell all variables.
-    """
-    many = len(goal)
-    units = unit_forms(many)
+    def __init__(self, worth, sizes, divisor):
+        self.worth = worth
+        self.sizes = sizes
+        self.divisor = divisor
+
+
+def first_table(lines, many):
+    """A Table in which the lines with the least room stand that tell all variables; they must have both bounds."""
+    table = Table(lines, unit_vectors(many), 1, [None] * many)
+    rooms = [lines[number].room() for number in range(len(lines))]
+    numbers = [number for number in range(len(lines)) if rooms[number] is not None]
     # At first the variables themselves stand, with no ends; each line takes the place of one of them.
-    table = Table(goal, list(lines), units, list(goal), 1, [None] * many, [0] * many)
-    for number in range(many):
-        row = row_of(table, lines[number].form)
+    for number in sorted(numbers, key=lambda number: rooms[number]):
+        row = _row_of(table, lines[number].form)
         free = [place for place in range(many) if table.standing[place] is None and row[place] != 0]
-        exchange(table, row, number, free[0], 0)
-    for place, number in enumerate(table.standing):
-        line = table.lines[number]
-        table.ends[place] = line.high if table.goal_row[place] > 0 else line.low
+        if len(free) > 0:
+            _exchange(table, row, number, free[0], 0)
     return table
 
 
-def copied(table):
-    """A Table that can be changed without changing this one."""
-    return Table(
-        table.goal, list(table.lines), table.rows, table.goal_row, table.divisor, list(table.standing), list(table.ends)
-    )
+def top_of(table, goal):
+    """The Top of a goal while all lines keep their bounds; None if they cannot."""
+    made = Table(table.lines, table.rows, table.divisor, list(table.standing))
+    made.goal_row = _row_of(table, goal)
+    for place, number in enumerate(made.standing):
+        line = made.lines[number]
+        made.ends[place] = line.high if made.goal_row[place] > 0 else line.low
+    if not _settle(made):
+        return None
+    sizes = [inner(row, made.ends) for row in made.rows]
+    return Top(inner(made.goal_row, made.ends) // made.divisor, sizes, made.divisor)
 
 
-def with_line(table, line):
-    """A Table that has one more line, and that can be changed without changing this one."""
-    made = copied(table)
-    made.lines.append(line)
-    return made
+def rough_span(table, place):
+    """The least and the greatest integer that a variable can be while the standing lines keep their bounds."""
+    low = high = 0
+    for number, standing in zip(table.rows[place], table.standing):
+        line = table.lines[standing]
+        low = low + number * (line.low if number > 0 else line.high)
+        high = high + number * (line.high if number > 0 else line.low)
+    return -(-low // table.divisor), high // table.divisor
 
 
-def point_of(table):
-    """The variables at the point where the table stands, times the divisor."""
-    return [inner(row, table.ends) for row in table.rows]
-
-
-def height_of(table):
-    """What the goal comes to where the table stands, times the divisor."""
-    return inner(table.goal_row, table.ends)
-
-
-def row_of(table, form):
+def _row_of(table, form):
     """How much of each standing line, divided by the divisor, goes into a form."""
     made = [0] * len(form)
     for number, row in zip(form, table.rows):
@@ -80,7 +90,7 @@ def row_of(table, form):
     return made
 
 
-def exchange(table, row, number, place, end):
+def _exchange(table, row, number, place, end):
     """A line with this row comes to stand at an end, instead of the line that stands in this place."""
     turn = 1 if row[place] > 0 else -1
     divisor = row[place] * turn
@@ -100,43 +110,23 @@ def _exchanged(cells, row, place, turn, divisor, old):
     return made
 
 
-def settle(table, least):
-    """Bring all lines within their bounds, the goal as great as can be; False if it cannot be more than the least."""
-    while height_of(table) >= (least + 1) * table.divisor:
+def _settle(table):
+    """Bring all lines within their bounds, the goal as great as can be; False if they cannot be brought there."""
+    while True:
         number, side = _last_outside(table)
         if number is None:
             return True
         line = table.lines[number]
-        row = row_of(table, line.form)
+        row = _row_of(table, line.form)
         place = _place_for(table, row, side)
         if place is None:
             return False
-        exchange(table, row, number, place, line.high if side > 0 else line.low)
-    return False
-
-
-def draw_in(table, least):
-    """Bring the bounds of the standing lines together that would keep the goal from being more than the least."""
-    room = height_of(table) - (least + 1) * table.divisor
-    for place, number in enumerate(table.standing):
-        line, loss = table.lines[number], abs(table.goal_row[place])
-        if loss == 0:
-            continue
-        low = high = table.ends[place]
-        if high == line.high:
-            low = high - room // loss
-            if line.low is not None:
-                low = max(low, line.low)
-        else:
-            high = low + room // loss
-            if line.high is not None:
-                high = min(high, line.high)
-        table.lines[number] = Line(line.form, low, high)
+        _exchange(table, row, number, place, line.high if side > 0 else line.low)
 
 
 def _last_outside(table):
     """The last line that is not within its bounds, and 1 or -1 if it is above or below them; None and 0 if all are."""
-    point, divisor = point_of(table), table.divisor
+    point, divisor = [inner(row, table.ends) for row in table.rows], table.divisor
     for number in range(len(table.lines) - 1, -1, -1):
         if number in table.standing:
             continue

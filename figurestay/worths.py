@@ -7,15 +7,31 @@ LONGEST_TEXT = 400
 
 
 class Worth:
-    """An integer number of units of 10 ** -scale, kept at its own scale."""
+    """An integer number of units of 10 ** -scale, kept at its own scale.
+
+    Worths are in order by the greatest integer that they are not below, then by the digits of what they have more.
+    """
 
     def __init__(self, units, scale=0):
         need_integer(units)
         need_whole_number(scale)
         self.units, self.scale = without_zeros(units, scale)
+        self.floor, self.more = parted(self.units, self.scale)
 
     def __eq__(self, other):
-        return isinstance(other, Worth) and self.units == other.units and self.scale == other.scale
+        if not isinstance(other, Worth):
+            return False
+        return (self.floor, self.more) == (other.floor, other.more)
+
+    def __lt__(self, other):
+        if not isinstance(other, Worth):
+            return NotImplemented
+        return (self.floor, self.more) < (other.floor, other.more)
+
+    def __le__(self, other):
+        if not isinstance(other, Worth):
+            return NotImplemented
+        return (self.floor, self.more) <= (other.floor, other.more)
 
     def __add__(self, other):
         other = as_worth(other)
@@ -89,6 +105,17 @@ def without_zeros(units, scale):
             units, scale = units // block, scale - step
         step = step // 2
     return units, scale
+
+
+def parted(units, scale):
+    """The greatest integer that so many units are not below, and what they have more, in as many digits as the scale.
+
+    At the own scale these digits end with no zero, so that their order is that of what they tell.
+    """
+    if scale == 0:
+        return units, ""
+    floor, more = divmod(units, ten_to(scale))
+    return floor, digits_of(more).zfill(scale)
 
 
 def as_worth(value):

@@ -22,7 +22,8 @@ LIBRARY = {"heapq": {"heappush", "heappop", "heapify", "heapreplace", "heappushp
            "itertools": {"product", "combinations", "permutations"}}
 # What a caller passes to be called.
 CALLED_PARAMETERS = ("action",)
-SPECIAL = set("""__init__ __eq__ __str__ __add__ __radd__ __sub__ __rsub__ __mul__ __rmul__ __neg__ __abs__""".split())
+SPECIAL = set("""__init__ __eq__ __str__ __add__ __radd__ __sub__ __rsub__ __mul__ __rmul__ __neg__ __abs__
+__lt__ __le__""".split())
 STATEMENTS = (ast.Assign, ast.AugAssign, ast.If, ast.While, ast.For, ast.Return, ast.Break, ast.Continue, ast.Pass,
               ast.Raise, ast.Try, ast.Expr, ast.FunctionDef, ast.ClassDef, ast.ImportFrom)
 EXPRESSIONS = (ast.BoolOp, ast.BinOp, ast.UnaryOp, ast.Lambda, ast.IfExp, ast.Dict, ast.ListComp, ast.SetComp,
@@ -205,6 +206,7 @@ class Language(unittest.TestCase):
         called |= {id(told.value) for node, _ in self.each(ast.Call) for told in node.keywords
                    if told.arg == "key" and isinstance(told.value, ast.Name) and told.value.id in ("len", "abs")}
         called |= {id(base) for node, _ in self.each(ast.ClassDef) for base in node.bases}
+        called |= {id(node.value) for node, _ in self.each(ast.Return) if ast.unparse(node) == "return NotImplemented"}
         for node, at in self.each(ast.Name):
             if isinstance(node.ctx, ast.Load) and hasattr(builtins, node.id) and node.id != "property":
                 self.assertIn(id(node), called, f"{at} {node.id}")
@@ -222,6 +224,27 @@ class Language(unittest.TestCase):
             for number, sign in enumerate(node.ops):
                 if isinstance(sign, (ast.Is, ast.IsNot)):
                     self.assertTrue(isinstance(sides[number + 1], ast.Constant), at)
+
+    def test_what_compares_has_one_key(self):
+        """So sorted, min and max may take anything."""
+        for node, at in self.each(ast.ClassDef):
+            methods = {told.name: told for told in node.body if isinstance(told, ast.FunctionDef)}
+            orders = [name for name in ("__lt__", "__le__") if name in methods]
+            if not orders:
+                continue
+            self.assertEqual(orders + ["__eq__"], ["__lt__", "__le__", "__eq__"], at)
+            keys = set()
+            for name, sign, other in (("__lt__", "<", "NotImplemented"), ("__le__", "<=", "NotImplemented"),
+                                      ("__eq__", "==", "False")):
+                first, second = methods[name].body
+                self.assertEqual(ast.unparse(first), f"if not isinstance(other, {node.name}):\n    return {other}", at)
+                mine, yours = ast.unparse(second).removeprefix("return ").split(f" {sign} ")
+                self.assertEqual(mine.replace("self.", "other."), yours, at)
+                self.assertTrue(re.fullmatch(r"\(self\.\w+(, self\.\w+)*\)", mine), at)
+                keys.add(mine)
+            self.assertEqual(len(keys), 1, at)
+        for node, at in self.each(ast.Attribute):
+            self.assertNotEqual(node.attr, "sort", at)
 
     def test_sets_stand_in_sorted_and_len_only(self):
         allowed = {id(node.args[0]) for node, _ in self.each(ast.Call)

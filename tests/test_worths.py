@@ -77,6 +77,19 @@ class Equal(Case):
         self.assertTrue(Worth(1) != Worth(-1))
         self.assertTrue(Worth(0, 3) == Worth(0))
 
+    def test_in_order(self):
+        worths = some_worths() + [Worth(10 ** 400 + 1, 400), Worth(10 ** 400 - 1, 400), Worth(-1, 400), Worth(-1, 700)]
+        for one, other in itertools.product(worths, worths):
+            self.assertEqual((one < other, one <= other, one > other, one >= other),
+                             (fraction(one) < fraction(other), fraction(one) <= fraction(other),
+                              fraction(one) > fraction(other), fraction(one) >= fraction(other)))
+            self.assertEqual(compare(one, other), (one > other) - (one < other))
+        for value in values_of_all_kinds():
+            if not is_worth(value):
+                for call in (lambda: Worth(1) < value, lambda: Worth(1) <= value, lambda: value < Worth(1)):
+                    with self.assertRaises(TypeError):
+                        call()
+
     def test_unequal_to_all_else(self):
         for value in values_of_all_kinds():
             if not is_worth(value):

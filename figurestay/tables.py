@@ -50,7 +50,7 @@ def first_table(lines, many):
     rooms = [lines[number].room() for number in range(len(lines))]
     numbers = [number for number in range(len(lines)) if rooms[number] is not None]
     # At first the variables themselves stand, with no ends; each line takes the place of one of them.
-    for number in sorted(numbers, key=lambda number: rooms[number]):
+    for number in sorted(numbers, key=lambda at: rooms[at]):
         row = _row_of(table, lines[number].form)
         free = [place for place in range(many) if table.standing[place] is None and row[place] != 0]
         if len(free) > 0:

@@ -8,8 +8,8 @@ from figurestay.lattices import inner, unit_vectors
 from figurestay.regions import Region, in_short_vectors, layer, stretch, tidied
 from figurestay.tables import Line, first_table, rough_span, top_of
 
-# With so many layers all are looked at; with more of them, the middle one and what lies on its two sides.
-FEW_LAYERS = 8
+# At most so many layers are all looked at; of more of them the middle one, and what lies on its two sides.
+FEW_LAYERS = 3
 
 # With at least so many layers beside the first one along each vector it is worth the work to draw the lines in.
 WORTH_DRAWING = 2

@@ -89,22 +89,30 @@ def _searched(program, least, most, to_the_end):
         view = view_of(with_line(waiting.pop(), Line(program.goal, least, most)))
         if view is None:
             continue
-        point = view.point_below_top(program.goal) if to_the_end else view.point()
-        if point is None and view.is_thin():
-            waiting.extend(smaller_regions(view))
-            continue
-        if point is None:
-            # Here Cases are told apart ahead of the layers, which are many.
-            point = any_point(view.region)
-        if point is None:
-            continue
-        # All rounding is left open that no Case told; so the goal can be too great at a point, never too little.
-        worths = program.worths_of(point)
-        height = program.height_at(worths)
-        if height >= least:
-            best, least = worths, height + 1
-            if not to_the_end:
-                return best
-        wrong = program.first_wrong(point)
-        waiting.extend([view.region] if wrong is None else parts_by_cases(program, view.region, wrong))
+        point, parts = _point_and_parts(program, view, to_the_end)
+        if point is not None:
+            # All rounding is left open that no Case told; so the goal can be too great at a point, never too little.
+            worths = program.worths_of(point)
+            height = program.height_at(worths)
+            if height >= least:
+                best, least = worths, height + 1
+                if not to_the_end:
+                    return best
+            wrong = program.first_wrong(point)
+            if wrong is not None:
+                parts = parts_by_cases(program, view.region, wrong)
+        waiting.extend(parts)
     return best
+
+
+def _point_and_parts(program, view, to_the_end):
+    """A point of a View, or None, and Regions that together have all its points."""
+    point = view.point_below_top(program.goal) if to_the_end else view.point()
+    if point is not None:
+        return point, [view.region]
+    if not view.is_thin():
+        # Here Cases are told apart ahead of the layers, which are many.
+        point = any_point(view.region)
+        if point is None:
+            return None, []
+    return point, smaller_regions(view)
